@@ -1,0 +1,1 @@
+"""Oneswill: which agendas leave only one person's will."""

@@ -1,0 +1,1 @@
+"""Names, values and agendas."""
