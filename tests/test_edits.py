@@ -196,8 +196,8 @@ class FixedTest(EditsTest):
         self.refuse(InvalidAgenda, Agenda.free(("a",)).fixed, ("a", 1))
 
     def test_no_answer(self):
-        for answer in (("c", 0), ("a", True), ("a", False), ("a", 2), ("a", -1), ("a",), ("a", 0, 0), ["a", 0], "a0", (),
-                       None, 0, ("A", 0), (0, "a"), {"a": 0}, (("a", 0),), ("a", None), "a", (["a"], 0), (("a",), 0)):
+        for answer in (("c", 0), ("a", True), ("a", False), ("a", 2), ("a", -1), ("a",), ("a", 0, 0), ["a", 0], "a0",
+                       (), None, 0, ("A", 0), (0, "a"), {"a": 0}, (("a", 0),), ("a", None), "a", (["a"], 0), (("a",), 0)):
             for agenda in (PAIR, Agenda.free(("a",)), Agenda.free(("a", "b"))):
                 self.refuse(InvalidOperation, agenda.fixed, answer)
         for answer in wrong_values():
