@@ -101,13 +101,24 @@ class ToldTest(unittest.TestCase):
     def test_index_of_an_issue(self):
         self.assertEqual([ORDERS["ab"], ORDERS["ac"], ORDERS["bc"]], [0, 1, 2])
         self.assertEqual([Agenda.free(SIX)[issue] for issue in SIX], [0, 1, 2, 3, 4, 5])
+        self.assertEqual([Agenda.free((issue,))[issue] for issue in SIX], [0, 0, 0, 0, 0, 0])
+        for agenda in small_agendas():
+            self.assertEqual(repr([agenda[issue] for issue in agenda.issues]), repr(list(range(len(agenda.issues)))))
 
     def test_no_issue(self):
-        for value in wrong_values():
-            with self.assertRaises(UnknownName) as caught:
-                CLAIM[value]
-            self.assertEqual(repr(caught.exception.name), repr(value) if value != CLAIM else repr(CLAIM))
-            self.assertNotIsInstance(caught.exception, ValueError)
+        for agenda in (CLAIM, Agenda.free(("b",)), Agenda.free(SIX)):
+            for value in [*wrong_values(), "g", "both ", ("both",), ["b"], ("a", 0)]:
+                if value not in agenda.issues:
+                    self.refuse_issue(agenda, value)
+
+    def refuse_issue(self, agenda, value):
+        with self.assertRaises(UnknownName) as caught:
+            agenda[value]
+        self.assertIs(type(caught.exception), UnknownName)
+        self.assertEqual(repr(caught.exception.name), repr(value))
+        self.assertNotIsInstance(caught.exception, ValueError)
+
+    def test_no_issue_but_of_another_agenda(self):
         with self.assertRaises(UnknownName) as caught:
             CLAIM["r"]
         self.assertEqual((caught.exception.name, str(caught.exception)), ("r", "'r'"))

@@ -34,6 +34,12 @@ def defined(tree):
     return names + [target.id for node in tree.body if isinstance(node, ast.Assign) for target in node.targets]
 
 
+def attributes(trees):
+    """The names of the attributes that the classes of the package assign."""
+    nodes = [node for tree in trees for node in ast.walk(tree)]
+    return {node.attr for node in nodes if isinstance(node, ast.Attribute) and isinstance(node.ctx, ast.Store)}
+
+
 class LanguageTest(unittest.TestCase):
     def setUp(self):
         self.trees = {path: ast.parse(path.read_text(encoding="ascii")) for path in files()}
@@ -98,6 +104,15 @@ class LanguageTest(unittest.TestCase):
                 if isinstance(node, ast.Name) and node.id in builtin:
                     self.assertIn(node.id, BUILTINS, (path, node.lineno))
                     self.assertIsInstance(node.ctx, ast.Load, (path, node.lineno))
+
+    def test_no_call_by_the_name_of_an_attribute(self):
+        # In what an operator or a property runs, such a call would count as one of something that is held.
+        kept = attributes(self.trees.values())
+        self.assertIn("index", kept)
+        for path, tree in self.trees.items():
+            for node in ast.walk(tree):
+                if isinstance(node, ast.Call) and isinstance(node.func, ast.Attribute):
+                    self.assertNotIn(node.func.attr, kept, (path, node.lineno))
 
 
 if __name__ == "__main__":

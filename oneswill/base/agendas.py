@@ -98,9 +98,10 @@ class Agenda:
         return tuple([(issue, value) for issue in self._issues for value in (0, 1)])
 
     def __getitem__(self, issue):
-        if issue not in self._issues:
-            raise UnknownName(issue)
-        return self._issues.index(issue)
+        for at, name in enumerate(self._issues):
+            if name == issue:
+                return at
+        raise UnknownName(issue)
 
     def __contains__(self, value):
         # True equals 1 for Python, but (True, 0) is no row.
@@ -148,14 +149,14 @@ class Agenda:
         """The agenda of the rows cut to these issues."""
         if issues == () or not is_subset(issues, self._issues):
             raise InvalidOperation("no set of one or more issues of the agenda")
-        places = [self._issues.index(issue) for issue in issues]
+        places = [self[issue] for issue in issues]
         return Agenda(issues, tuple(sorted({_cut(row, places) for row in self._rows})))
 
     def fixed(self, answer):
         """The agenda of the rows that have this answer, without its issue."""
         if not is_answer(answer) or answer[0] not in self._issues:
             raise InvalidOperation("no answer of the agenda")
-        fixed_at = self._issues.index(answer[0])
+        fixed_at = self[answer[0]]
         places = [at for at in range(len(self._issues)) if at != fixed_at]
         rows = [_cut(row, places) for row in self._rows if row[fixed_at] == answer[1]]
         return Agenda(_cut(self._issues, places), tuple(rows))
