@@ -1,15 +1,22 @@
-"""Values that several tests use."""
+"""Values and checks that several tests use."""
 
+import time
+import unittest
 from itertools import combinations, product
 
 from oneswill.base.agendas import Agenda
 from oneswill.errors import InvalidAgenda
+from oneswill.rule.rules import Rule
 
 PAIR = Agenda(("a", "b"), ((0, 1), (1, 0)))
 EVEN = Agenda(("a", "b", "c"), ((0, 0, 0), (0, 1, 1), (1, 0, 1), (1, 1, 0)))
 ORDERS = Agenda(("ab", "ac", "bc"), ((0, 0, 0), (0, 0, 1), (0, 1, 1), (1, 0, 0), (1, 1, 0), (1, 1, 1)))
 CLAIM = Agenda(("both", "p", "q"), ((0, 0, 0), (0, 0, 1), (0, 1, 0), (1, 1, 1)))
 SIX = ("a", "b", "c", "d", "e", "f")
+BOTH = Rule(2, {"both": (0, 0, 0, 1), "p": (0, 0, 0, 1), "q": (0, 0, 0, 1)})
+MOST = Rule(3, {issue: (0, 0, 0, 1, 0, 1, 1, 1) for issue in ("ab", "ac", "bc")})
+# Far more than any call needs, and far less than a look at all that the call must not look at.
+SOON = 10
 
 
 def nested(kind, depth):
@@ -31,7 +38,7 @@ def wrong_values():
         [], [0], [0, 1], [0, 1, 0], ["a"], ["a", "b"], [("a", 0)], [(0, 1), (1, 0)], (["a"],), ([0, 1], [1, 0]),
         {0: "a"}, {"zz": "a"}, {"a": "A"}, {"a": 0}, {"a": None}, {True: "a"}, {None: "x"}, {("a",): "x"}, {"a": ["b"]},
         nested("tuple", 10), nested("list", 10), nested("dict", 10), PAIR, EVEN, CLAIM, (PAIR,), [CLAIM], {"a": PAIR},
-        InvalidAgenda("no agenda"),
+        Rule(1, {"zz": (0, 1)}), BOTH, (BOTH, BOTH), [BOTH], {"a": BOTH}, InvalidAgenda("no agenda"),
     ]
 
 
@@ -54,6 +61,109 @@ def small_agendas():
 def shown(agenda):
     """All that tells an agenda; True and 1, tuples and lists differ in it."""
     return repr((agenda.issues, agenda.rows))
+
+
+def deep(value):
+    """All that tells a value: agendas and rules in it by what they keep, True and 1 apart, dicts in their order."""
+    if isinstance(value, Agenda):
+        return f"Agenda({value.issues!r}, {value.rows!r})"
+    if isinstance(value, Rule):
+        return f"Rule({value.voters!r}, {[(issue, value[issue]) for issue in value]!r})"
+    if isinstance(value, dict):
+        return "{" + ", ".join(f"{deep(key)}: {deep(item)}" for key, item in value.items()) + "}"
+    if isinstance(value, (tuple, list)):
+        return type(value).__name__ + "(" + ", ".join(deep(item) for item in value) + ")"
+    return repr(value)
+
+
+def subsets(items):
+    """All sets of some of the items, perhaps of none."""
+    return [chosen for many in range(len(items) + 1) for chosen in combinations(items, many)]
+
+
+def parts_of(agenda):
+    """All parts of answers of an agenda, told by the document's words alone."""
+    choices = product((None, 0, 1), repeat=len(agenda.issues))
+    return [tuple((issue, value) for issue, value in zip(agenda.issues, chosen) if value is not None)
+            for chosen in choices]
+
+
+def has(agenda, row, part):
+    """Whether a row has a part."""
+    return set(part) <= set(zip(agenda.issues, row))
+
+
+def least(agenda):
+    """The set of the least clashes, told by the document's words alone."""
+    clashes = [set(part) for part in parts_of(agenda) if not any(has(agenda, row, part) for row in agenda.rows)]
+    return {tuple(sorted(part)) for part in clashes if not any(other < part for other in clashes)}
+
+
+def linked(agenda):
+    """The set of the links, told by the document's words alone."""
+    return {(one, (issue, 1 - value)) for clash in least(agenda) for one in clash for issue, value in clash
+            if one != (issue, value)}
+
+
+def outcome_of(rule, votes):
+    """The outcome of votes, told by the document's words alone."""
+    cases = list(product((0, 1), repeat=rule.voters))
+    return tuple(rule[issue][cases.index(tuple(row[at] for row in votes))] for at, issue in enumerate(rule.issues))
+
+
+def is_rule_for(agenda, rule):
+    """Whether a rule is one for the agenda, told by the document's words alone."""
+    return all(outcome_of(rule, votes) in agenda.rows for votes in product(agenda.rows, repeat=rule.voters))
+
+
+def all_rules(issues, voters):
+    """Every rule with these issues for so many voters."""
+    tables = [(0, *middle, 1) for middle in product((0, 1), repeat=2 ** voters - 2)]
+    return [Rule(voters, dict(zip(issues, chosen))) for chosen in product(tables, repeat=len(issues))]
+
+
+class Calls(unittest.TestCase):
+    """Checks of calls, each of which leaves what it was passed."""
+
+    def refuse(self, error, call, *args, **kept):
+        """The call raises just this error, which keeps just these values."""
+        before = deep(args)
+        with self.assertRaises(error, msg=before) as caught:
+            call(*args)
+        self.assertIs(type(caught.exception), error, before)
+        self.assertEqual(deep(args), before)
+        for name, value in kept.items():
+            self.assertEqual(deep(getattr(caught.exception, name)), deep(value))
+
+    def refuse_wrong(self, error, call, *args, at, right=(), keeps=None):
+        """The call raises this error for each wrong value in the place of one argument, unless it is a right one."""
+        for value in wrong_values():
+            if deep(value) not in [deep(other) for other in right]:
+                changed = [*args[:at], value, *args[at + 1:]]
+                self.refuse(error, call, *changed, **({keeps: value} if keeps else {}))
+
+    def judge_wrong(self, call, *args, right=()):
+        """The call answers False for each wrong value as its last argument, unless it is a right one."""
+        for value in wrong_values():
+            if deep(value) not in [deep(other) for other in right]:
+                before = deep(value)
+                self.assertIs(call(*args, value), False, before)
+                self.assertEqual(deep(value), before)
+
+    def told(self, call, *args):
+        """What the call returns: twice the same, in the place of which nothing changes."""
+        before = deep(args)
+        found = call(*args)
+        self.assertEqual(deep(call(*args)), deep(found))
+        self.assertEqual(deep(args), before)
+        return found
+
+    def soon(self, call, *args):
+        """What the call returns soon."""
+        begin = time.perf_counter()
+        found = call(*args)
+        self.assertLess(time.perf_counter() - begin, SOON)
+        return found
 
 
 def told(agenda):

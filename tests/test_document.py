@@ -1,55 +1,66 @@
-"""The examples of the document, word by word."""
+"""The examples of the document, word by word, and those of README.md."""
 
 import doctest
+import importlib
 import unittest
 from pathlib import Path
 
-from oneswill.base.agendas import Agenda, contrary
-from oneswill.base.names import is_integer, is_name, is_values
-from oneswill.errors import InvalidAgenda
-from tests.common import CLAIM, EVEN, ORDERS, PAIR
+TESTS = Path(__file__).resolve().parent
+# In the order in which they stand in the document: the later ones use names of the earlier ones.
+STAGES = {
+    "values": "oneswill.base.agendas",
+    "stage_01": "oneswill.base.names",
+    "stage_02": "oneswill.base.agendas",
+    "stage_03": "oneswill.base.clashes",
+    "stage_04": "oneswill.base.sentences",
+    "stage_05": "oneswill.link.links",
+    "stage_06": "oneswill.rule.rules",
+}
+
+
+def examples(stage):
+    """Pairs of a line and of the answer that stands below it, or None."""
+    found = []
+    for line in (TESTS / "examples" / f"{stage}.txt").read_text(encoding="ascii").splitlines():
+        if line.startswith(">>> "):
+            found.append((line[4:], None))
+        else:
+            found[-1] = (found[-1][0], line)
+    return found
+
+
+def defined_in(name):
+    """What a module defines itself: what it imports does not stand in it for the document."""
+    module = importlib.import_module(name)
+    return {key: value for key, value in vars(module).items() if getattr(value, "__module__", "") == name}
 
 
 class ExamplesTest(unittest.TestCase):
     def test_examples(self):
-        self.assertEqual(PAIR.issues, ("a", "b"))
-        self.assertEqual(PAIR.rows, ((0, 1), (1, 0)))
-        self.assertEqual(EVEN.issues, ("a", "b", "c"))
-        self.assertEqual(EVEN.rows, ((0, 0, 0), (0, 1, 1), (1, 0, 1), (1, 1, 0)))
-        self.assertEqual(ORDERS.rows, ((0, 0, 0), (0, 0, 1), (0, 1, 1), (1, 0, 0), (1, 1, 0), (1, 1, 1)))
-        self.assertEqual(CLAIM.issues, ("both", "p", "q"))
-        self.assertEqual(CLAIM.rows, ((0, 0, 0), (0, 0, 1), (0, 1, 0), (1, 1, 1)))
+        names, ran = {}, 0
+        for stage, module in STAGES.items():
+            names.update(defined_in(module))
+            for line, answer in examples(stage):
+                with self.subTest(stage=stage, line=line):
+                    self.check(line, answer, names)
+                    ran += 1
+        self.assertGreaterEqual(ran, 2 * len(STAGES))
 
-
-class StageOneTest(unittest.TestCase):
-    def test_judges(self):
-        told = [is_integer(-3), is_integer(True), is_name("road"), is_name("Road"), is_values((0, 1, 1)), is_values(()),
-                is_values((0, True)), is_values([0])]
-        self.assertEqual(told, [True, False, True, False, True, True, False, False])
-
-
-class StageTwoTest(unittest.TestCase):
-    def test_reading(self):
-        told = [ORDERS.issues, len(ORDERS), PAIR.answers, ORDERS["bc"], (1, 0, 1) in ORDERS, str(CLAIM),
-                Agenda.free(("a",)).rows]
-        self.assertEqual(told, [
-            ("ab", "ac", "bc"), 6, (("a", 0), ("a", 1), ("b", 0), ("b", 1)), 2, False, "agenda of 3 issues, 4 rows",
-            ((0,), (1,))])
-
-    def test_edits(self):
-        told = [PAIR.turned(("b",)).rows, PAIR.renamed({"a": "c"}).issues, CLAIM.only(("both", "p")).rows,
-                CLAIM.fixed(("both", 0)).rows, len(PAIR + CLAIM), contrary(("p", 0))]
-        self.assertEqual(told, [
-            ((0, 0), (1, 1)), ("b", "c"), ((0, 0), (0, 1), (1, 1)), ((0, 0), (0, 1), (1, 0)), 8, ("p", 1)])
-
-    def test_error(self):
-        with self.assertRaises(InvalidAgenda):
-            CLAIM.fixed(("both", 1))
+    def check(self, line, answer, names):
+        if answer is None:
+            exec(line, names)
+        elif answer.startswith("raises "):
+            told = answer.removeprefix("raises ")
+            with self.assertRaises(Exception) as caught:
+                eval(line, names)
+            self.assertEqual(repr(caught.exception) if "(" in told else type(caught.exception).__name__, told)
+        else:
+            self.assertEqual(repr(eval(line, names)), answer)
 
 
 class ReadmeTest(unittest.TestCase):
     def test_the_readme_tells_what_is_so(self):
-        readme = Path(__file__).resolve().parent.parent / "README.md"
+        readme = TESTS.parent / "README.md"
         # The closing fence would be read as a part of the last answer.
         text = readme.read_text(encoding="utf-8").replace("```", "")
         found = doctest.DocTestParser().get_doctest(text, {}, "README.md", str(readme), 0)

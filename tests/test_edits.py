@@ -1,33 +1,20 @@
 """Agendas made of other agendas: stage 2."""
 
 import unittest
-from itertools import combinations, permutations, product
+from itertools import permutations, product
 
 from oneswill.base.agendas import Agenda
 from oneswill.errors import InvalidAgenda, InvalidOperation
-from tests.common import CLAIM, EVEN, ORDERS, PAIR, SIX, shown, small_agendas, told, wrong_values
+from tests.common import CLAIM, EVEN, ORDERS, PAIR, SIX, Calls, shown, small_agendas, subsets, told, wrong_values
 
 
-def subsets(items):
-    """All sets of some of the items, perhaps of none."""
-    return [chosen for many in range(len(items) + 1) for chosen in combinations(items, many)]
-
-
-class EditsTest(unittest.TestCase):
+class EditsTest(Calls):
     def expect(self, agenda, issues, rows):
         """The agenda has just these issues, and rows told as sets of answers, and is a right one."""
         self.assertIs(type(agenda), Agenda)
         self.assertEqual(agenda.issues, tuple(sorted(issues)))
         self.assertEqual(told(agenda), rows)
         self.assertEqual(agenda, Agenda(agenda.issues, agenda.rows))
-
-    def refuse(self, error, call, *args):
-        """The call raises just this error and leaves what it was passed."""
-        before = repr(args)
-        with self.assertRaises(error) as caught:
-            call(*args)
-        self.assertIs(type(caught.exception), error)
-        self.assertEqual(repr(args), before)
 
 
 class RowsTest(EditsTest):
@@ -197,7 +184,8 @@ class FixedTest(EditsTest):
 
     def test_no_answer(self):
         for answer in (("c", 0), ("a", True), ("a", False), ("a", 2), ("a", -1), ("a",), ("a", 0, 0), ["a", 0], "a0",
-                       (), None, 0, ("A", 0), (0, "a"), {"a": 0}, (("a", 0),), ("a", None), "a", (["a"], 0), (("a",), 0)):
+                       (), None, 0, ("A", 0), (0, "a"), {"a": 0}, (("a", 0),), ("a", None), "a", (["a"], 0),
+                       (("a",), 0)):
             for agenda in (PAIR, Agenda.free(("a",)), Agenda.free(("a", "b"))):
                 self.refuse(InvalidOperation, agenda.fixed, answer)
         for answer in wrong_values():

@@ -13,6 +13,16 @@ Exception ValueError TypeError KeyError IndexError LookupError ZeroDivisionError
 RuntimeError NotImplementedError AttributeError StopIteration NotImplemented object float True False None""".split())
 MODULE_LEVEL = (ast.Expr, ast.ImportFrom, ast.FunctionDef, ast.ClassDef, ast.Assign)
 BARRED = (ast.AsyncFunctionDef, ast.AsyncFor, ast.AsyncWith, ast.Await, ast.Import, ast.Div)
+# The methods of builtin values that may be called at all.
+METHODS = set("""append clear copy count endswith extend find get index insert isalnum isalpha isdigit islower isspace
+isupper items join keys ljust lower lstrip partition pop remove replace reverse rfind rjust rpartition rsplit rstrip
+setdefault split splitlines startswith strip update upper values zfill bit_length""".split())
+WORDS = ("type", "typing", "enum", "register", "mro", "elements", "open", "input", "law", "version_info", "namedtuple",
+         "eval", "exec", "globals", "locals", "vars", "dir", "id", "help", "gc", "os", "compile", "chr", "Meta")
+# They are iterated where they stand.
+VIEWS = ("zip", "enumerate", "reversed", "range", "items", "keys", "values")
+TAKE_VIEWS = ("list", "tuple", "dict", "sorted", "sum", "any", "all", "enumerate", "zip", "min", "max")
+PLAIN = (ast.Name, ast.Attribute, ast.Constant)
 # They take a list where a class compares.
 TAKE_LISTS = ("any", "all", "min", "max", "sum", "sorted")
 
@@ -38,6 +48,51 @@ def attributes(trees):
     """The names of the attributes that the classes of the package assign."""
     nodes = [node for tree in trees for node in ast.walk(tree)]
     return {node.attr for node in nodes if isinstance(node, ast.Attribute) and isinstance(node.ctx, ast.Store)}
+
+
+def called(node):
+    """The name by which a call calls, or None."""
+    if not isinstance(node, ast.Call):
+        return None
+    return getattr(node.func, "id", getattr(node.func, "attr", None))
+
+
+def above(tree):
+    """For each node of a tree the one above it."""
+    return {node: parent for parent in ast.walk(tree) for node in ast.iter_child_nodes(parent)}
+
+
+def bound_in(function):
+    """The names of the parameters and the local variables of a function."""
+    names = {part.arg for part in ast.walk(function) if isinstance(part, ast.arg)}
+    return names | {part.id for part in ast.walk(function)
+                    if isinstance(part, ast.Name) and isinstance(part.ctx, ast.Store)}
+
+
+def is_operator(function):
+    """Whether a function is a property or an operator, which may change nothing."""
+    if any(getattr(decorator, "id", "") == "property" for decorator in function.decorator_list):
+        return True
+    return function.name.startswith("__") and function.name not in ("__init__", "__call__", "__iter__")
+
+
+def run_by_operators(trees):
+    """The functions and methods that are properties and operators, or that these call, one behind another."""
+    functions, found = {}, []
+    for tree in trees:
+        for node in ast.walk(tree):
+            if isinstance(node, ast.FunctionDef):
+                functions.setdefault(node.name, []).append(node)
+            elif isinstance(node, ast.ClassDef):
+                functions.setdefault(node.name, []).extend(
+                    part for part in node.body if isinstance(part, ast.FunctionDef) and part.name == "__init__")
+    waiting = [node for nodes in functions.values() for node in nodes if is_operator(node)]
+    while waiting:
+        node = waiting.pop()
+        if node not in found:
+            found.append(node)
+            waiting += [other for part in ast.walk(node) for other in functions.get(called(part), ())]
+    return found
 
 
 class LanguageTest(unittest.TestCase):
@@ -113,6 +168,86 @@ class LanguageTest(unittest.TestCase):
             for node in ast.walk(tree):
                 if isinstance(node, ast.Call) and isinstance(node.func, ast.Attribute):
                     self.assertNotIn(node.func.attr, kept, (path, node.lineno))
+
+    def nodes(self, *kinds):
+        """Each node of these kinds, with the one above it and its place."""
+        for path, tree in self.trees.items():
+            parents = above(tree)
+            for node in ast.walk(tree):
+                if isinstance(node, kinds):
+                    yield node, parents.get(node), (path.name, getattr(node, "lineno", 0))
+
+    def test_methods_of_builtin_values(self):
+        own = {node.name for node, _, _ in self.nodes(ast.FunctionDef)}
+        for node, _, place in self.nodes(ast.Call):
+            if isinstance(node.func, ast.Attribute):
+                self.assertIn(node.func.attr, METHODS | own, place)
+
+    def test_words(self):
+        for node, _, place in self.nodes(ast.Name, ast.Attribute, ast.arg, ast.FunctionDef, ast.Constant):
+            text = [getattr(node, key, None) for key in ("id", "attr", "arg", "name", "value")]
+            self.assertFalse(set(WORDS) & {word for word in text if isinstance(word, str)}, place)
+
+    def test_views_are_iterated_on_the_spot(self):
+        for node, parent, place in self.nodes(ast.Call):
+            if called(node) in VIEWS:
+                at_once = isinstance(parent, (ast.For, ast.comprehension)) and parent.iter is node
+                first = called(parent) in TAKE_VIEWS and parent.args[0] is node
+                self.assertTrue(at_once or first, place)
+
+    def test_sets_are_neither_kept_nor_iterated(self):
+        for node, parent, place in self.nodes(ast.Set, ast.SetComp, ast.Call):
+            if not isinstance(node, ast.Call) or called(node) == "set":
+                self.assertTrue(called(parent) in ("sorted", "len") or isinstance(parent, ast.Compare), place)
+
+    def test_stars(self):
+        for node, parent, place in self.nodes(ast.Starred):
+            self.assertIsInstance(node.value, PLAIN, place)
+        for node, _, place in self.nodes(ast.Subscript):
+            self.assertFalse(any(isinstance(part, ast.Starred) for part in ast.walk(node.slice)), place)
+
+    def test_operators(self):
+        for node, _, place in self.nodes(ast.BinOp, ast.AugAssign):
+            self.assertNotIsInstance(node.op, (ast.Div, ast.MatMult), place)
+            if isinstance(node.op, ast.Pow):
+                self.assertIn(ast.literal_eval(node.right), range(65), place)
+        for node, _, place in self.nodes(ast.Compare):
+            if any(isinstance(op, (ast.Is, ast.IsNot)) for op in node.ops):
+                self.assertIsInstance(node.comparators[0], ast.Constant, place)
+
+    def test_no_name_of_an_import_or_a_class_means_something_else(self):
+        for path, tree in self.trees.items():
+            taken = {name.name for node in tree.body if isinstance(node, ast.ImportFrom) for name in node.names}
+            taken |= {node.name for node in tree.body if isinstance(node, ast.ClassDef)}
+            for node in ast.walk(tree):
+                if isinstance(node, ast.FunctionDef):
+                    self.assertEqual(taken & bound_in(node), set(), (path, node.name))
+
+    def test_what_operators_run_changes_nothing(self):
+        functions = run_by_operators(self.trees.values())
+        self.assertGreater(len(functions), 20)
+        for function in functions:
+            bound = bound_in(function)
+            for node in ast.walk(function):
+                place = (function.name, getattr(node, "lineno", 0))
+                self.assertNotIsInstance(node, (ast.AugAssign, ast.Delete, ast.Lambda, ast.Yield), place)
+                if isinstance(node, ast.Subscript):
+                    self.assertIsInstance(node.ctx, ast.Load, place)
+                if isinstance(node, ast.Attribute) and isinstance(node.ctx, ast.Store):
+                    self.assertEqual((function.name, node.value.id), ("__init__", "self"), place)
+                if isinstance(node, ast.Call):
+                    self.assertNotIn(called(node), bound, place)
+                    self.assertNotIn(called(node), ("append", "extend", "pop", "update", "setdefault", "clear"), place)
+
+    def test_no_import_leads_round(self):
+        loads = {module(path): {node.module for node in tree.body if isinstance(node, ast.ImportFrom)}
+                 for path, tree in self.trees.items()}
+        left = dict(loads)
+        while left:
+            free = [name for name in left if not loads[name] & set(left)]
+            self.assertNotEqual(free, [], left)
+            for name in free:
+                del left[name]
 
 
 if __name__ == "__main__":

@@ -17,6 +17,18 @@ def is_answer(value):
     return isinstance(value, tuple) and len(value) == 2 and is_name(value[0]) and is_value(value[1])
 
 
+def is_answer_to(issues, value):
+    """Whether the value is an answer to one of these issues."""
+    return is_answer(value) and value[0] in issues
+
+
+def are_answers_to(issues, value):
+    """Whether the value is a set of answers to these issues, perhaps empty."""
+    if not isinstance(value, tuple) or not all([is_answer_to(issues, item) for item in value]):
+        return False
+    return is_ascending(value)
+
+
 def contrary(answer):
     """The answer with the same issue and the other value."""
     if not is_answer(answer):
@@ -154,7 +166,7 @@ class Agenda:
 
     def fixed(self, answer):
         """The agenda of the rows that have this answer, without its issue."""
-        if not is_answer(answer) or answer[0] not in self._issues:
+        if not is_answer_to(self._issues, answer):
             raise InvalidOperation("no answer of the agenda")
         fixed_at = self[answer[0]]
         places = [at for at in range(len(self._issues)) if at != fixed_at]

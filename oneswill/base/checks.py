@@ -1,0 +1,16 @@
+"""Checks of arguments that several modules make."""
+
+from oneswill.errors import InvalidAgenda, InvalidOperation
+from oneswill.base.agendas import Agenda, is_answer_to
+
+
+def need_agenda(agenda):
+    """Refuse what is no agenda."""
+    if not isinstance(agenda, Agenda):
+        raise InvalidAgenda("no agenda")
+
+
+def need_answer(agenda, answer):
+    """Refuse what is no answer of the agenda."""
+    if not is_answer_to(agenda.issues, answer):
+        raise InvalidOperation("no answer of the agenda")

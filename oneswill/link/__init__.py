@@ -1,0 +1,1 @@
+"""Links between answers."""

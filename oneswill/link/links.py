@@ -1,0 +1,91 @@
+"""Links between answers, chains of links, and the knots that they make."""
+
+from oneswill.base.agendas import contrary, is_answer_to
+from oneswill.base.checks import need_agenda, need_answer
+from oneswill.base.clashes import least_clashes
+
+
+def _pairs_in(clash):
+    """The pairs of answers between which a least clash shows a link."""
+    return [(one, contrary(other)) for one in clash for other in clash if one != other]
+
+
+def link_web(agenda):
+    """For each answer, a dict of the answers to which links lead from it."""
+    web = {answer: {} for answer in agenda.answers}
+    for clash in least_clashes(agenda):
+        for one, other in _pairs_in(clash):
+            web[one][other] = True
+    return web
+
+
+def led_from(web, start):
+    """For each answer to which chains lead from the first one: the answer ahead of it in a shortest chain."""
+    ahead = {start: None}
+    level = [start]
+    while len(level) > 0:
+        following = []
+        for one in level:
+            for other in web[one]:
+                if other not in ahead:
+                    ahead[other] = one
+                    following.append(other)
+        level = following
+    return ahead
+
+
+def links(agenda):
+    """The ascending tuple of the pairs of answers between which there is a link."""
+    need_agenda(agenda)
+    return tuple(sorted([(one, other) for one, others in link_web(agenda).items() for other in others]))
+
+
+def clashes_for(agenda, one, other):
+    """The ascending tuple of the least clashes that show a link from an answer to another one."""
+    need_agenda(agenda)
+    need_answer(agenda, one)
+    need_answer(agenda, other)
+    return tuple([clash for clash in least_clashes(agenda) if (one, other) in _pairs_in(clash)])
+
+
+def is_chain(agenda, value):
+    """Whether the value is a tuple of answers in which a link leads from each to the next one."""
+    need_agenda(agenda)
+    if not isinstance(value, tuple) or not all([is_answer_to(agenda.issues, answer) for answer in value]):
+        return False
+    web = link_web(agenda)
+    return len(value) > 0 and all([other in web[one] for one, other in zip(value, value[1:])])
+
+
+def chain(agenda, one, other):
+    """A chain from an answer to another one with as few answers as possible, or None."""
+    need_agenda(agenda)
+    need_answer(agenda, one)
+    need_answer(agenda, other)
+    ahead = led_from(link_web(agenda), one)
+    if other not in ahead:
+        return None
+    found = [other]
+    while found[-1] != one:
+        found.append(ahead[found[-1]])
+    return tuple(found[::-1])
+
+
+def led_to(agenda, answer):
+    """The set of the answers to which an answer leads, with itself."""
+    need_agenda(agenda)
+    need_answer(agenda, answer)
+    return tuple(sorted(led_from(link_web(agenda), answer)))
+
+
+def knots(agenda):
+    """The ascending tuple of the knots: the greatest sets of answers each of which leads to each other one."""
+    need_agenda(agenda)
+    web = link_web(agenda)
+    led = {answer: led_from(web, answer) for answer in web}
+    return tuple(sorted({tuple([other for other in led if other in led[one] and one in led[other]]) for one in led}))
+
+
+def is_blocked(agenda):
+    """Whether all answers of the agenda are one knot."""
+    return knots(agenda) == (agenda.answers,)

@@ -1,0 +1,1 @@
+"""Rules, and which of them an agenda has."""

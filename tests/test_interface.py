@@ -1,0 +1,65 @@
+"""The names, arguments and places that the interface lists."""
+
+import importlib
+import inspect
+import unittest
+
+FUNCTIONS = {
+    "oneswill.base.names": "is_integer(value) is_name(value) is_values(value)",
+    "oneswill.base.agendas": "contrary(answer)",
+    "oneswill.base.clashes": """is_part(agenda, value) rows_with(agenda, part) is_clash(agenda, value)
+        is_least_clash(agenda, value) least_clashes(agenda) clash_in(agenda, values) by_clashes(issues, clashes)""",
+    "oneswill.base.sentences": """is_sentence(value) names_in(sentence) value_of(sentence, values)
+        agenda_of(issues, sentence) sentence_for(agenda)""",
+    "oneswill.link.links": """links(agenda) clashes_for(agenda, one, other) is_chain(agenda, value)
+        chain(agenda, one, other) led_to(agenda, answer) knots(agenda) is_blocked(agenda)""",
+    "oneswill.rule.rules": """is_rule(agenda, value) breach(agenda, rule) is_breach(agenda, rule, value)
+        outcome(agenda, rule, votes)""",
+}
+METHODS = {
+    "oneswill.base.agendas Agenda": """__init__(issues, rows) free(issues) with_row(row) without_row(row) turned(issues)
+        renamed(names) only(issues) fixed(answer)""",
+    "oneswill.rule.rules Rule": """__init__(voters, tables) of_voter(issues, voters, voter) __call__(votes) followed()
+        heard(issue) only(issues) turned(issues) renamed(names) spoken(voices, voters) put_in(rules)""",
+}
+CONSTANTS = {
+    "oneswill.base.names": {"MAX_LETTERS": 8},
+    "oneswill.base.agendas": {"MAX_ISSUES": 6},
+    "oneswill.base.sentences": {"MAX_DEPTH": 8, "MAX_PARTS": 200},
+    "oneswill.rule.rules": {"MAX_VOTERS": 4, "MAX_VOTES": 200000},
+}
+
+
+def listed(text):
+    """The names with the names of their parameters."""
+    parts = [part.strip().split("(") for part in text.split(")") if part.strip()]
+    return {name: [word.strip() for word in words.split(",") if word.strip()] for name, words in parts}
+
+
+class InterfaceTest(unittest.TestCase):
+    def test_functions(self):
+        for name, text in FUNCTIONS.items():
+            module = importlib.import_module(name)
+            for function, parameters in listed(text).items():
+                found = getattr(module, function)
+                self.assertEqual(found.__module__, name)
+                self.assertEqual(list(inspect.signature(found).parameters), parameters, function)
+
+    def test_methods(self):
+        for place, text in METHODS.items():
+            name, kind = place.split()
+            made = getattr(importlib.import_module(name), kind)
+            self.assertEqual(made.__module__, name)
+            for method, parameters in listed(text).items():
+                found = vars(made)[method]
+                told = list(inspect.signature(getattr(found, "__func__", found)).parameters)
+                self.assertEqual(told[1:], parameters, method)
+
+    def test_constants(self):
+        for name, values in CONSTANTS.items():
+            for constant, value in values.items():
+                self.assertEqual(repr(getattr(importlib.import_module(name), constant)), repr(value))
+
+
+if __name__ == "__main__":
+    unittest.main()
