@@ -15,6 +15,10 @@ STAGES = {
     "stage_04": "oneswill.base.sentences",
     "stage_05": "oneswill.link.links",
     "stage_06": "oneswill.rule.rules",
+    "stage_07": "oneswill.rule.twos",
+    "stage_08": "oneswill.rule.sums",
+    "stage_09": "oneswill.rule.verdict",
+    "stage_10": "oneswill.rule.even",
 }
 
 

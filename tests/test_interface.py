@@ -15,6 +15,14 @@ FUNCTIONS = {
         chain(agenda, one, other) led_to(agenda, answer) knots(agenda) is_blocked(agenda)""",
     "oneswill.rule.rules": """is_rule(agenda, value) breach(agenda, rule) is_breach(agenda, rule, value)
         outcome(agenda, rule, votes)""",
+    "oneswill.rule.twos": """is_closed(agenda, value) closed_sets(agenda) least_closed(agenda, answers)
+        rule_of(agenda, answers) set_of(agenda, rule) rules_for_two(agenda)""",
+    "oneswill.rule.sums": """is_summed(agenda) sums_paper(agenda) is_sums_paper(agenda, value)
+        sum_rule(issues, voters, summed) summed_voters(rule)""",
+    "oneswill.rule.verdict": """has_another(agenda) another(agenda, voters) paper(agenda) is_paper(agenda, value)
+        only_sums(agenda, rule)""",
+    "oneswill.rule.even": """is_even_handed(rule) sides(rule) even_rule(sides, voters) has_even(agenda)
+        even_sides(agenda) even_paper(agenda) is_even_paper(agenda, value) fair_at(agenda, issue)""",
 }
 METHODS = {
     "oneswill.base.agendas Agenda": """__init__(issues, rows) free(issues) with_row(row) without_row(row) turned(issues)

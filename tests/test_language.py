@@ -137,6 +137,13 @@ class LanguageTest(unittest.TestCase):
                 elif isinstance(node, ast.ImportFrom):
                     self.assertIn(node.module, ("heapq", "math", "itertools", "collections"), (path, node.lineno))
 
+    def test_each_import_is_used(self):
+        for path, tree in self.trees.items():
+            used = {node.id for node in ast.walk(tree) if isinstance(node, ast.Name)}
+            for node in tree.body:
+                if isinstance(node, ast.ImportFrom):
+                    self.assertLessEqual({name.name for name in node.names}, used, (path, node.lineno))
+
     def test_barred_parts(self):
         for path, tree in self.trees.items():
             for node in ast.walk(tree):

@@ -12,6 +12,14 @@ def is_issues(value):
     return is_set_of_names(value) and 1 <= len(value) <= MAX_ISSUES
 
 
+def has_issues_as_keys(value):
+    """Whether the value is a dict whose keys are one to six names."""
+    # Keys that are no strings could not be sorted.
+    if not isinstance(value, dict) or not all([isinstance(key, str) for key in value]):
+        return False
+    return is_issues(tuple(sorted(value)))
+
+
 def is_answer(value):
     """Whether the value is a pair of a name and 0 or 1."""
     return isinstance(value, tuple) and len(value) == 2 and is_name(value[0]) and is_value(value[1])

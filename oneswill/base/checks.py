@@ -1,6 +1,6 @@
 """Checks of arguments that several modules make."""
 
-from oneswill.errors import InvalidAgenda, InvalidOperation
+from oneswill.errors import InvalidAgenda, InvalidOperation, UnknownName
 from oneswill.base.agendas import Agenda, is_answer_to
 
 
@@ -8,6 +8,12 @@ def need_agenda(agenda):
     """Refuse what is no agenda."""
     if not isinstance(agenda, Agenda):
         raise InvalidAgenda("no agenda")
+
+
+def need_issue(agenda, issue):
+    """Refuse what is no issue of the agenda."""
+    if issue not in agenda.issues:
+        raise UnknownName(issue)
 
 
 def need_answer(agenda, answer):

@@ -10,13 +10,27 @@ def _pairs_in(clash):
     return [(one, contrary(other)) for one in clash for other in clash if one != other]
 
 
-def link_web(agenda):
-    """For each answer, a dict of the answers to which links lead from it."""
-    web = {answer: {} for answer in agenda.answers}
+def shown_links(agenda):
+    """A dict from the links, as pairs of answers, to the first least clash that shows each."""
+    shown = {}
     for clash in least_clashes(agenda):
-        for one, other in _pairs_in(clash):
-            web[one][other] = True
+        for pair in _pairs_in(clash):
+            if pair not in shown:
+                shown[pair] = clash
+    return shown
+
+
+def web_of(agenda, pairs):
+    """For each answer of the agenda the answers that stand behind it in these pairs."""
+    web = {answer: [] for answer in agenda.answers}
+    for one, other in pairs:
+        web[one].append(other)
     return web
+
+
+def link_web(agenda):
+    """For each answer of the agenda the answers to which links lead from it."""
+    return web_of(agenda, list(shown_links(agenda)))
 
 
 def led_from(web, start):
@@ -37,7 +51,7 @@ def led_from(web, start):
 def links(agenda):
     """The ascending tuple of the pairs of answers between which there is a link."""
     need_agenda(agenda)
-    return tuple(sorted([(one, other) for one, others in link_web(agenda).items() for other in others]))
+    return tuple(sorted(shown_links(agenda)))
 
 
 def clashes_for(agenda, one, other):

@@ -1,7 +1,7 @@
 """Rules: a table for each issue, and what they make of votes."""
 
 from oneswill.errors import InvalidNumber, InvalidOperation, InvalidRule, NoRow, TooMany, UnknownName
-from oneswill.base.agendas import is_issues, new_names
+from oneswill.base.agendas import has_issues_as_keys, is_issues, new_names
 from oneswill.base.checks import need_agenda
 from oneswill.base.names import all_values, has_values, is_integer, is_subset
 
@@ -28,10 +28,7 @@ def _is_table(value, voters):
 
 def _are_tables(value, voters):
     """Whether the value is a dict from one to six names to tables."""
-    if not isinstance(value, dict) or not all([_is_table(table, voters) for table in value.values()]):
-        return False
-    # Keys that are no strings could not be sorted.
-    return all([isinstance(key, str) for key in value]) and is_issues(tuple(sorted(value)))
+    return has_issues_as_keys(value) and all([_is_table(table, voters) for table in value.values()])
 
 
 def _follow_table(voters, voter):
@@ -190,6 +187,12 @@ def need_rule(agenda, rule):
     """Refuse what is no rule with the issues of the agenda."""
     if not has_issues_of(agenda, rule):
         raise InvalidRule("no rule with the issues of the agenda")
+
+
+def need_two_voters(rule):
+    """Refuse what is no rule for two voters."""
+    if not isinstance(rule, Rule) or rule.voters != 2:
+        raise InvalidRule("no rule for two voters")
 
 
 def _need_few_votes(agenda, rule):
