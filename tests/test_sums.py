@@ -129,7 +129,9 @@ class PaperTest(Calls):
                      (one, two, (0, 1, 0)), (one, two, (0, True, True)), (one, two, (0, 1)), (one, two, (0, 1, 1, 1)),
                      ((False, 0, 0), two, three), (), None, 0, "", {}, dict.fromkeys((one, two, three)), ORDERS):
             self.assertIs(is_sums_paper(ORDERS, ("rows", rows)), False, rows)
-        self.assertIs(is_sums_paper(ORDERS, ("sums", (one, two, three))), False)
+        self.assertIs(is_sums_paper(ORDERS, ("rows", (one, two, three))), True)
+        for word in ("sums", "row", "Rows", "", None, 0, ("rows",), ORDERS):
+            self.assertIs(is_sums_paper(ORDERS, (word, (one, two, three))), False)
 
     def test_no_papers(self):
         for value in NO_PAPERS:

@@ -169,6 +169,7 @@ class GeneratorTest(Calls):
             made = rules_for_two(value)
             self.assertIsInstance(made, GeneratorType)
             self.refuse(InvalidAgenda, next, made)
+            self.assertEqual(list(made), [])
         self.refuse_wrong(InvalidAgenda, lambda agenda: next(rules_for_two(agenda)), PAIR, at=0,
                           right=(PAIR, EVEN, CLAIM))
 

@@ -143,7 +143,8 @@ class AnotherPaperTest(Calls):
         self.assertIs(is_paper(ORDERS, ("another", MOST)), False)
 
     def test_no_papers(self):
-        for value in (("another",), ("another", BOTH, BOTH), ("another", None), ("another", MOST), ["another", BOTH],
+        for value in (("another",), ("another", BOTH, BOTH), ("another", BOTH, None, None), ("another", None),
+                      ("another", MOST), ["another", BOTH],
                       ("one", BOTH), ("other", BOTH), (BOTH, "another"), BOTH, ("another", (BOTH,)), ("another", CLAIM),
                       ("another", {"p": (0, 1)}), None, 0, "another", (), {}, {"another": BOTH}, (None, BOTH),
                       ("another", BOTH.only(("p", "q"))), ("another", BOTH.renamed({"p": "r"})), (BOTH, BOTH)):

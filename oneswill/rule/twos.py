@@ -48,7 +48,7 @@ def least_closed(agenda, answers):
 
 def _table_of(issue, answers):
     """The table that says what both say, and else the first voter's answer if it is one of these."""
-    # A first voter with an answer that is none of these meets a second voter with the other value.
+    # Where both differ and the first voter's answer is none of these, the other value is the second voter's.
     return (0, int((issue, 0) not in answers), int((issue, 1) in answers), 1)
 
 
