@@ -3,6 +3,7 @@
 import time
 import unittest
 from itertools import combinations, product
+from random import Random
 
 from oneswill.base.agendas import Agenda
 from oneswill.errors import InvalidAgenda
@@ -56,6 +57,21 @@ def small_agendas():
     found = [agenda for issues in (("b",), ("ab", "b"), ("ab", "b", "c")) for agenda in all_agendas(issues)]
     rows = tuple(values for values in product((0, 1), repeat=6) if sum(values) != 3)
     return found + [PAIR, EVEN, ORDERS, CLAIM, Agenda.free(SIX), Agenda(SIX, rows), Agenda(SIX, ((0,) * 6, (1,) * 6))]
+
+
+def mixed_agendas(each=8):
+    """So many agendas for each number of issues from one to six, with few, some and many rows; always the same."""
+    found = []
+    for many in range(1, 7):
+        chance = Random(many)
+        values = list(product((0, 1), repeat=many))
+        for number in range(each):
+            wanted = (3, len(values) // 2, len(values) - 2, len(values) // 4)[number % 4]
+            rows = set(chance.sample(values, max(2, min(wanted, len(values)))))
+            while not all(len(set(column)) == 2 for column in zip(*rows)):
+                rows.add(chance.choice(values))
+            found.append(Agenda(SIX[:many], tuple(sorted(rows))))
+    return found
 
 
 def shown(agenda):

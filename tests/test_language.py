@@ -22,6 +22,7 @@ WORDS = ("type", "typing", "enum", "register", "mro", "elements", "open", "input
 # They are iterated where they stand.
 VIEWS = ("zip", "enumerate", "reversed", "range", "items", "keys", "values")
 TAKE_VIEWS = ("list", "tuple", "dict", "sorted", "sum", "any", "all", "enumerate", "zip", "min", "max")
+MODIFY = ("append", "clear", "extend", "insert", "pop", "remove", "reverse", "setdefault", "update")
 PLAIN = (ast.Name, ast.Attribute, ast.Constant)
 # They take a list where a class compares.
 TAKE_LISTS = ("any", "all", "min", "max", "sum", "sorted")
@@ -67,6 +68,45 @@ def bound_in(function):
     names = {part.arg for part in ast.walk(function) if isinstance(part, ast.arg)}
     return names | {part.id for part in ast.walk(function)
                     if isinstance(part, ast.Name) and isinstance(part.ctx, ast.Store)}
+
+
+def may_be(node):
+    """The names of the variables whose value an expression may be, or be a part of."""
+    if isinstance(node, ast.Name):
+        return [node.id]
+    if isinstance(node, (ast.Attribute, ast.Subscript, ast.Starred, ast.NamedExpr)):
+        return may_be(node.value)
+    parts = {ast.IfExp: ("body", "orelse"), ast.BoolOp: ("values",), ast.Tuple: ("elts",), ast.List: ("elts",)}
+    found = [getattr(node, key) for key in parts.get(type(node), ())]
+    if isinstance(node, ast.Call) and called(node) in VIEWS:
+        # What is iterated by these is what they are given.
+        found = [node.args, getattr(node.func, "value", [])]
+    return [name for part in found for item in (part if isinstance(part, list) else [part]) for name in may_be(item)]
+
+
+def one_value(function):
+    """For each variable of a function those that assignments make one with it, whole or in part."""
+    names = {name: {name} for name in bound_in(function)}
+    for node in ast.walk(function):
+        if isinstance(node, ast.Assign):
+            joined = {name for part in [*node.targets, node.value] for name in may_be(part)}
+            for name in set(joined):
+                joined |= names.get(name, set())
+            for name in joined:
+                names[name] = joined
+    return names
+
+
+def changed_in(nodes):
+    """The expressions whose values are changed by these nodes."""
+    for node in nodes:
+        for part in ast.walk(node):
+            if isinstance(part, (ast.Subscript, ast.Attribute)) and not isinstance(part.ctx, ast.Load):
+                yield part.value
+            elif isinstance(part, ast.AugAssign):
+                yield part.target
+            elif isinstance(part, ast.Call) and called(part) in MODIFY and isinstance(part.func, ast.Attribute):
+                yield part.func.value
 
 
 def is_operator(function):
@@ -244,7 +284,34 @@ class LanguageTest(unittest.TestCase):
                     self.assertEqual((function.name, node.value.id), ("__init__", "self"), place)
                 if isinstance(node, ast.Call):
                     self.assertNotIn(called(node), bound, place)
-                    self.assertNotIn(called(node), ("append", "extend", "pop", "update", "setdefault", "clear"), place)
+                    self.assertNotIn(called(node), MODIFY, place)
+
+    def wrong_loops(self, tree):
+        """The places of the loops in which something is changed that may be what they iterate over."""
+        for function in ast.walk(tree):
+            names = one_value(function) if isinstance(function, ast.FunctionDef) else {}
+            for node in ast.walk(function) if names else ():
+                loops = [node] if isinstance(node, ast.For) else getattr(node, "generators", [])
+                over = {name for loop in loops for name in may_be(loop.iter)}
+                body = node.body if isinstance(node, ast.For) else [node]
+                for changed in changed_in(body) if over else ():
+                    if any(names.get(name, {name}) & over for name in may_be(changed)):
+                        yield node.lineno
+
+    def test_no_loop_changes_what_it_iterates_over(self):
+        for path, tree in self.trees.items():
+            self.assertEqual(list(self.wrong_loops(tree)), [], path)
+
+    def test_what_counts_as_a_loop_that_changes_what_it_iterates_over(self):
+        for text in ("for x in xs:\n  xs.append(x)", "for x in xs:\n  ys.append(x)\n xs = ys",
+                     "for x in enumerate(xs):\n  xs[0] = x", "for x in a.xs:\n  del a.xs[0]",
+                     "for x in xs.items():\n  xs.pop(x)", "ys = xs if a else []\n for x in ys:\n  xs.clear()",
+                     "a, ys = 1, xs\n for x in ys:\n  xs += [x]", "return [xs.pop() for x in xs]"):
+            tree = ast.parse(f"def f(xs, a):\n {text}")
+            self.assertNotEqual(list(self.wrong_loops(tree)), [], text)
+        for text in ("for x in list(xs):\n  xs.append(x)", "for x in xs:\n  ys.append(x)\n xs = list(ys)",
+                     "for x in sorted(xs):\n  xs[x] = 1", "ys = []\n for x in xs:\n  ys.append(x)"):
+            self.assertEqual(list(self.wrong_loops(ast.parse(f"def f(xs, a):\n {text}"))), [], text)
 
     def test_no_import_leads_round(self):
         loads = {module(path): {node.module for node in tree.body if isinstance(node, ast.ImportFrom)}

@@ -7,7 +7,7 @@ from oneswill.base.agendas import Agenda, contrary
 from oneswill.base.clashes import least_clashes
 from oneswill.errors import InvalidAgenda, InvalidOperation
 from oneswill.link.links import chain, clashes_for, is_blocked, is_chain, knots, led_to, links
-from tests.common import CLAIM, EVEN, ORDERS, PAIR, SIX, Calls, linked, small_agendas
+from tests.common import CLAIM, EVEN, ORDERS, PAIR, SIX, Calls, linked, mixed_agendas, small_agendas
 
 # No answers of PAIR.
 NO_ANSWERS = (("c", 0), ("a", True), ("a", False), ("a", 2), ("a", -1), ("a",), ("a", 0, 0), ["a", 0], "a0", (),
@@ -113,7 +113,7 @@ class ChainTest(Calls):
         self.judge_wrong(is_chain, PAIR)
 
     def test_shortest_chains(self):
-        for agenda in small_agendas()[::3] + [FORCING, RINGED]:
+        for agenda in small_agendas()[::3] + mixed_agendas(4) + [FORCING, RINGED]:
             pairs = linked(agenda)
             for one in agenda.answers:
                 for other in agenda.answers:
@@ -127,18 +127,21 @@ class ChainTest(Calls):
             self.assertEqual((len(found), found[0], found[-1]), (many, one, other))
             self.assertIs(is_chain(agenda, found), True)
 
+    def test_agendas_of_each_number_of_issues(self):
+        self.assertEqual({len(agenda.issues) for agenda in mixed_agendas(4)}, {1, 2, 3, 4, 5, 6})
+
     def test_from_an_answer_to_itself(self):
         self.assertEqual(chain(PAIR, ("a", 0), ("a", 0)), (("a", 0),))
 
 
 class KnotsTest(Calls):
     def test_led_to(self):
-        for agenda in small_agendas() + [FORCING, RINGED]:
+        for agenda in small_agendas() + mixed_agendas() + [FORCING, RINGED]:
             for answer, led in spread(agenda).items():
                 self.assertEqual(repr(self.told(led_to, agenda, answer)), repr(tuple(sorted(led))))
 
     def test_knots(self):
-        for agenda in small_agendas() + [FORCING, RINGED]:
+        for agenda in small_agendas() + mixed_agendas() + [FORCING, RINGED]:
             led = spread(agenda)
             right = {tuple(sorted(other for other in led[one] if one in led[other])) for one in led}
             self.assertEqual(repr(self.told(knots, agenda)), repr(tuple(sorted(right))))

@@ -274,8 +274,17 @@ class OnlySumsTest(Calls):
             self.refuse(TooMany, only_sums, FULL, rule, limit=200000)
             self.refuse(InvalidOperation, only_sums, FREE, rule)
             self.refuse(InvalidRule, only_sums, FULL, rule.only(SIX[1:]))
-        # Behind them, the votes that show that it is no rule for the agenda.
-        self.refuse(InvalidOperation, only_sums, CLAIM, BOTH.turned(("p",)))
+
+    def test_a_rule_that_is_none_is_told_ahead_of_an_agenda_that_is_not_blocked(self):
+        for agenda in (CLAIM, PAIR, Agenda.free(("a",)) + PAIR.renamed({"a": "x", "b": "y"})):
+            self.assertIs(is_blocked(agenda), False)
+            for rule in all_rules(agenda.issues, 2):
+                if is_rule_for(agenda, rule):
+                    self.refuse(InvalidOperation, only_sums, agenda, rule)
+                else:
+                    with self.assertRaises(NoRow) as caught:
+                        only_sums(agenda, rule)
+                    self.assertIs(is_breach(agenda, rule, caught.exception.votes), True)
 
     def test_wrong_rules(self):
         self.refuse_wrong(InvalidRule, only_sums, CLAIM, BOTH, at=1, right=[BOTH])

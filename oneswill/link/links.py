@@ -38,13 +38,13 @@ def led_from(web, start):
     ahead = {start: None}
     level = [start]
     while len(level) > 0:
-        following = []
+        found = {}
         for one in level:
             for other in web[one]:
-                if other not in ahead:
-                    ahead[other] = one
-                    following.append(other)
-        level = following
+                if other not in ahead and other not in found:
+                    found[other] = one
+        ahead.update(found)
+        level = list(found)
     return ahead
 
 

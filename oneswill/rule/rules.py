@@ -189,18 +189,30 @@ def need_rule(agenda, rule):
         raise InvalidRule("no rule with the issues of the agenda")
 
 
+def need_any_rule(rule):
+    """Refuse what is no rule."""
+    if not isinstance(rule, Rule):
+        raise InvalidRule("no rule")
+
+
 def need_two_voters(rule):
     """Refuse what is no rule for two voters."""
-    if not isinstance(rule, Rule) or rule.voters != 2:
+    need_any_rule(rule)
+    if rule.voters != 2:
         raise InvalidRule("no rule for two voters")
 
 
-def _need_few_votes(agenda, rule):
-    """Refuse to look at too many votes."""
+def has_few_votes(agenda, voters):
+    """Whether rows of the agenda, as votes of so many voters, are few enough to look at all of them."""
     many = 1
-    for _ in range(rule.voters):
+    for _ in range(voters):
         many = many * len(agenda)
-    if many > MAX_VOTES:
+    return many <= MAX_VOTES
+
+
+def need_few_votes(agenda, voters):
+    """Refuse to look at too many votes."""
+    if not has_few_votes(agenda, voters):
         raise TooMany(MAX_VOTES)
 
 
@@ -238,7 +250,7 @@ def breach(agenda, rule):
     """Rows of the agenda, as votes, whose outcome is no row, or None if the rule is one for the agenda."""
     need_agenda(agenda)
     need_rule(agenda, rule)
-    _need_few_votes(agenda, rule)
+    need_few_votes(agenda, rule.voters)
     return _first_breach(agenda, rule)
 
 

@@ -1,9 +1,9 @@
 """Sums of rows, and the rules that are sums of voters."""
 
-from oneswill.errors import InvalidOperation, InvalidRule
+from oneswill.errors import InvalidOperation
 from oneswill.base.checks import need_agenda
 from oneswill.base.names import all_values, is_ascending, is_integer, is_subset, is_value
-from oneswill.rule.rules import Rule, need_issues, need_voters
+from oneswill.rule.rules import Rule, need_any_rule, need_issues, need_voters
 
 
 def sum_of(rows):
@@ -116,8 +116,7 @@ def sum_rule(issues, voters, summed):
 
 def summed_voters(rule):
     """The set of voters whose sum the rule is, or None."""
-    if not isinstance(rule, Rule):
-        raise InvalidRule("no rule")
+    need_any_rule(rule)
     for chosen in all_values(rule.voters):
         summed = tuple([voter for voter, value in enumerate(chosen) if value == 1])
         # That of an even number of voters ends with 0, as no table of a rule does.

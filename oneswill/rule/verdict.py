@@ -5,7 +5,7 @@ from oneswill.base.agendas import contrary, is_answer_to
 from oneswill.base.checks import need_agenda
 from oneswill.base.clashes import is_least_clash
 from oneswill.link.links import is_blocked, led_from, led_to, shown_links, web_of
-from oneswill.rule.rules import has_issues_of, is_rule, need_rule, need_rule_for, need_voters
+from oneswill.rule.rules import has_few_votes, has_issues_of, is_rule, need_rule, need_rule_for, need_voters
 from oneswill.rule.sums import is_summed, shows_no_sums, sum_rule, summed_voters, sums_paper
 from oneswill.rule.twos import rule_of
 
@@ -76,8 +76,10 @@ def only_sums(agenda, rule):
     """The odd set of the voters whose sum a rule for a blocked agenda is."""
     need_agenda(agenda)
     need_rule(agenda, rule)
-    # That votes are too many, or have no row as their outcome, comes last.
-    if not is_blocked(agenda):
+    blocked = is_blocked(agenda)
+    # A rule that is none for the agenda is told first, but that votes are too many to look at comes last.
+    if blocked or has_few_votes(agenda, rule.voters):
+        need_rule_for(agenda, rule)
+    if not blocked:
         raise InvalidOperation("the agenda is not blocked")
-    need_rule_for(agenda, rule)
     return summed_voters(rule)
