@@ -19,6 +19,10 @@ STAGES = {
     "stage_08": "oneswill.rule.sums",
     "stage_09": "oneswill.rule.verdict",
     "stage_10": "oneswill.rule.even",
+    "stage_11": "oneswill.rule.same",
+    "stage_12": "oneswill.rule.winners",
+    "stage_13": "oneswill.more.changed",
+    "stage_14": "oneswill.more.orders",
 }
 
 

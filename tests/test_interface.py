@@ -23,6 +23,14 @@ FUNCTIONS = {
         only_sums(agenda, rule)""",
     "oneswill.rule.even": """is_even_handed(rule) sides(rule) even_rule(sides, voters) has_even(agenda)
         even_sides(agenda) even_paper(agenda) is_even_paper(agenda, value) fair_at(agenda, issue)""",
+    "oneswill.rule.same": """same_rule(issues, voters, table) is_same(rule) way_rule(issues, way)
+        way_paper(agenda, way) is_way_paper(agenda, way, value) ways(agenda) tables_for_all(agenda, voters)""",
+    "oneswill.rule.winners": """does_win(rule, voters, answer) winners(rule, answer) all_heard(rule) loss(agenda, rule)
+        is_loss(agenda, rule, value) votes_of(agenda, rule, triple) ranked_knots(agenda)""",
+    "oneswill.more.changed": """rows_to_add(agenda, most) rows_to_take(agenda, most) issues_to_drop(agenda)
+        side_parts(agenda) beside(first, second) cut_rules(agenda, issues)""",
+    "oneswill.more.orders": """orders_agenda(things) row_of(things, order) order_of(things, values) ring(things, values)
+        order_outcome(things, rule, orders) least_orders(things, rule)""",
 }
 METHODS = {
     "oneswill.base.agendas Agenda": """__init__(issues, rows) free(issues) with_row(row) without_row(row) turned(issues)
@@ -35,6 +43,8 @@ CONSTANTS = {
     "oneswill.base.agendas": {"MAX_ISSUES": 6},
     "oneswill.base.sentences": {"MAX_DEPTH": 8, "MAX_PARTS": 200},
     "oneswill.rule.rules": {"MAX_VOTERS": 4, "MAX_VOTES": 200000},
+    "oneswill.rule.same": {"WAYS": ("both", "either", "most", "sum")},
+    "oneswill.more.changed": {"MAX_SETS": 500},
 }
 
 

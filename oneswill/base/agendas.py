@@ -71,9 +71,14 @@ def _are_rows(value, many):
     return is_ascending(value) and all([_has_both(value, at) for at in range(many)])
 
 
-def _cut(row, places):
-    """The values of a row at these places."""
-    return tuple([row[at] for at in places])
+def cut_row(issues, row, kept):
+    """The values of a row for the issues that are kept."""
+    return tuple([value for issue, value in zip(issues, row) if issue in kept])
+
+
+def turned_row(issues, row, turned):
+    """The row with the values for some issues exchanged."""
+    return tuple([1 - value if issue in turned else value for issue, value in zip(issues, row)])
 
 
 def _agenda_of_columns(names, rows):
@@ -81,7 +86,7 @@ def _agenda_of_columns(names, rows):
     columns = sorted([(name, at) for at, name in enumerate(names)])
     places = [at for name, at in columns]
     issues = tuple([name for name, at in columns])
-    return Agenda(issues, tuple(sorted([_cut(row, places) for row in rows])))
+    return Agenda(issues, tuple(sorted([tuple([row[at] for at in places]) for row in rows])))
 
 
 class Agenda:
@@ -157,9 +162,7 @@ class Agenda:
         """The agenda with the values of these issues exchanged."""
         if not is_subset(issues, self._issues):
             raise InvalidOperation("no set of issues of the agenda")
-        turns = [int(issue in issues) for issue in self._issues]
-        rows = [tuple([value ^ turn for value, turn in zip(row, turns)]) for row in self._rows]
-        return Agenda(self._issues, tuple(sorted(rows)))
+        return Agenda(self._issues, tuple(sorted([turned_row(self._issues, row, issues) for row in self._rows])))
 
     def renamed(self, names):
         """The agenda with other names of issues, by a dict from old names to new ones."""
@@ -169,17 +172,15 @@ class Agenda:
         """The agenda of the rows cut to these issues."""
         if issues == () or not is_subset(issues, self._issues):
             raise InvalidOperation("no set of one or more issues of the agenda")
-        places = [self[issue] for issue in issues]
-        return Agenda(issues, tuple(sorted({_cut(row, places) for row in self._rows})))
+        return Agenda(issues, tuple(sorted({cut_row(self._issues, row, issues) for row in self._rows})))
 
     def fixed(self, answer):
         """The agenda of the rows that have this answer, without its issue."""
         if not is_answer_to(self._issues, answer):
             raise InvalidOperation("no answer of the agenda")
-        fixed_at = self[answer[0]]
-        places = [at for at in range(len(self._issues)) if at != fixed_at]
-        rows = [_cut(row, places) for row in self._rows if row[fixed_at] == answer[1]]
-        return Agenda(_cut(self._issues, places), tuple(rows))
+        at = self[answer[0]]
+        rest = tuple([issue for issue in self._issues if issue != answer[0]])
+        return Agenda(rest, tuple([cut_row(self._issues, row, rest) for row in self._rows if row[at] == answer[1]]))
 
     def __add__(self, other):
         if not isinstance(other, Agenda):

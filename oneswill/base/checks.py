@@ -1,13 +1,20 @@
 """Checks of arguments that several modules make."""
 
-from oneswill.errors import InvalidAgenda, InvalidOperation, UnknownName
+from oneswill.errors import InvalidAgenda, InvalidName, InvalidOperation, UnknownName
 from oneswill.base.agendas import Agenda, is_answer_to
+from oneswill.base.names import is_name
 
 
 def need_agenda(agenda):
     """Refuse what is no agenda."""
     if not isinstance(agenda, Agenda):
         raise InvalidAgenda("no agenda")
+
+
+def need_name(value):
+    """Refuse what is no name."""
+    if not is_name(value):
+        raise InvalidName("no name")
 
 
 def need_issue(agenda, issue):

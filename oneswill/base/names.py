@@ -41,6 +41,12 @@ def all_values(many):
     return tuple(found)
 
 
+def all_sets(items):
+    """All sets of some of these items, which are told ascending, perhaps of none; ascending."""
+    chosen = [list(zip(items, values)) for values in all_values(len(items))]
+    return tuple(sorted([tuple([item for item, value in pairs if value == 1]) for pairs in chosen]))
+
+
 def is_ascending(items):
     """Whether each item of a tuple is less than the next one."""
     return all([one < other for one, other in zip(items, items[1:])])

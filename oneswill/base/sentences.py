@@ -91,7 +91,7 @@ def value_of(sentence, values):
     return _bits_of(sentence, values, 1)
 
 
-def _rows_for(issues, sentence):
+def rows_for(issues, sentence):
     """The ascending tuple of all rows for these issues for which the sentence has value 1."""
     rows = all_values(len(issues))
     bits = {}
@@ -108,10 +108,10 @@ def agenda_of(issues, sentence):
     for name in names_in(sentence):
         if name not in issues:
             raise UnknownName(name)
-    return Agenda(issues, _rows_for(issues, sentence))
+    return Agenda(issues, rows_for(issues, sentence))
 
 
-def _sentence_for_row(issues, row):
+def sentence_for_row(issues, row):
     """A sentence that has value 1 for this row alone."""
     parts = [issue if value == 1 else ("not", issue) for issue, value in zip(issues, row)]
     return ("and", *parts)
@@ -120,5 +120,5 @@ def _sentence_for_row(issues, row):
 def sentence_for(agenda):
     """A sentence by which agenda_of returns this agenda."""
     need_agenda(agenda)
-    parts = [_sentence_for_row(agenda.issues, row) for row in agenda.rows]
+    parts = [sentence_for_row(agenda.issues, row) for row in agenda.rows]
     return ("or", *parts)

@@ -3,7 +3,7 @@
 from oneswill.errors import InvalidNumber, InvalidOperation, InvalidRule, NoRow, TooMany, UnknownName
 from oneswill.base.agendas import has_issues_as_keys, is_issues, new_names
 from oneswill.base.checks import need_agenda
-from oneswill.base.names import all_values, has_values, is_integer, is_subset
+from oneswill.base.names import all_values, has_values, is_ascending, is_integer, is_subset
 
 MAX_VOTERS = 4
 MAX_VOTES = 200000
@@ -36,8 +36,15 @@ def _follow_table(voters, voter):
     return tuple([values[voter] for values in all_values(voters)])
 
 
-def _place(values):
-    """The place of the values of the voters in Python's order of all such tuples."""
+def are_voters(value, voters):
+    """Whether the value is a set of some of so many voters, perhaps of none."""
+    if not isinstance(value, tuple) or not all([is_integer(voter) and 0 <= voter < voters for voter in value]):
+        return False
+    return is_ascending(value)
+
+
+def place_of(values):
+    """The place of the values in Python's order of all such tuples: they are the bits of this number."""
     place = 0
     for value in values:
         place = 2 * place + value
@@ -89,7 +96,7 @@ class Rule:
         if not self._are_votes(votes):
             raise InvalidOperation("no tuple of one value for each issue for each voter")
         columns = list(zip(*votes))
-        return tuple([self[issue][_place(column)] for issue, column in zip(self._issues, columns)])
+        return tuple([self[issue][place_of(column)] for issue, column in zip(self._issues, columns)])
 
     def _are_votes(self, value):
         """Whether the value is a tuple of one value, any, for each issue for each voter."""
@@ -156,7 +163,7 @@ class Rule:
         need_voters(voters)
         if not all([voice < voters for voice in voices]):
             raise InvalidOperation("no such voter")
-        places = [_place([values[voice] for voice in voices]) for values in all_values(voters)]
+        places = [place_of([values[voice] for voice in voices]) for values in all_values(voters)]
         return Rule(voters, {issue: tuple([self[issue][at] for at in places]) for issue in self._issues})
 
     def put_in(self, rules):
@@ -166,7 +173,7 @@ class Rule:
         tables = {}
         for issue in self._issues:
             inner = [rule[issue] for rule in rules]
-            tables[issue] = tuple([self[issue][_place(values)] for values in zip(*inner)])
+            tables[issue] = tuple([self[issue][place_of(values)] for values in zip(*inner)])
         return Rule(rules[0].voters, tables)
 
     def _can_put_in(self, value):
@@ -216,13 +223,14 @@ def need_few_votes(agenda, voters):
         raise TooMany(MAX_VOTES)
 
 
-def _one_voter_more(agenda, cases):
+def _one_voter_more(rows, cases):
     """The cases behind one voter more: from the parts of the tables that are left to votes that leave them."""
     found = {}
     for tables, votes in cases.items():
-        half = len(tables[0]) // 2
-        for row in agenda.rows:
-            left = tuple([table[half:] if value == 1 else table[:half] for table, value in zip(tables, row)])
+        half = len(tables) // 2
+        pairs = list(zip(tables[:half], tables[half:]))
+        for bits, row in rows.items():
+            left = tuple([no ^ ((no ^ yes) & bits) for no, yes in pairs])
             if left not in found:
                 found[left] = (*votes, row)
     return found
@@ -230,12 +238,15 @@ def _one_voter_more(agenda, cases):
 
 def _first_breach(agenda, rule):
     """Rows of the agenda, as votes, whose outcome is no row, or None."""
+    # All issues are looked at together, as the bits of one number for each row and for each place of the tables.
+    rows = {place_of(row): row for row in agenda.rows}
+    tables = [rule[issue] for issue in agenda.issues]
     # Votes that leave the same parts of all tables have the same outcomes from there on, so one of them is enough.
-    cases = {tuple([rule[issue] for issue in agenda.issues]): ()}
+    cases = {tuple([place_of(column) for column in zip(*tables)]): ()}
     for _ in range(rule.voters):
-        cases = _one_voter_more(agenda, cases)
-    for tables, votes in cases.items():
-        if tuple([table[0] for table in tables]) not in agenda:
+        cases = _one_voter_more(rows, cases)
+    for told, votes in cases.items():
+        if told[0] not in rows:
             return votes
     return None
 

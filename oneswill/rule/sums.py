@@ -2,8 +2,8 @@
 
 from oneswill.errors import InvalidOperation
 from oneswill.base.checks import need_agenda
-from oneswill.base.names import all_values, is_ascending, is_integer, is_subset, is_value
-from oneswill.rule.rules import Rule, need_any_rule, need_issues, need_voters
+from oneswill.base.names import all_sets, all_values, is_subset, is_value
+from oneswill.rule.rules import Rule, are_voters, need_any_rule, need_issues, need_voters
 
 
 def sum_of(rows):
@@ -92,13 +92,6 @@ def is_sums_paper(agenda, value):
     return value[0] == "rows" and shows_no_sums(agenda, value[1])
 
 
-def _are_odd_voters(value, voters):
-    """Whether the value is a set of an odd number of voters of so many."""
-    if not isinstance(value, tuple) or not all([is_integer(voter) and 0 <= voter < voters for voter in value]):
-        return False
-    return is_ascending(value) and len(value) & 1 == 1
-
-
 def _sum_table(voters, summed):
     """The table that says 1 if an odd number of these voters say 1."""
     return tuple([sum([values[voter] for voter in summed]) & 1 for values in all_values(voters)])
@@ -108,7 +101,7 @@ def sum_rule(issues, voters, summed):
     """The rule for so many voters that is the sum of an odd set of them."""
     need_issues(issues)
     need_voters(voters)
-    if not _are_odd_voters(summed, voters):
+    if not are_voters(summed, voters) or len(summed) & 1 == 0:
         raise InvalidOperation("no set of an odd number of voters")
     table = _sum_table(voters, summed)
     return Rule(voters, {issue: table for issue in issues})
@@ -117,8 +110,7 @@ def sum_rule(issues, voters, summed):
 def summed_voters(rule):
     """The set of voters whose sum the rule is, or None."""
     need_any_rule(rule)
-    for chosen in all_values(rule.voters):
-        summed = tuple([voter for voter, value in enumerate(chosen) if value == 1])
+    for summed in all_sets(list(range(rule.voters))):
         # That of an even number of voters ends with 0, as no table of a rule does.
         table = _sum_table(rule.voters, summed)
         if all([rule[issue] == table for issue in rule.issues]):

@@ -3,7 +3,7 @@
 from oneswill.errors import InvalidOperation
 from oneswill.base.agendas import are_answers_to
 from oneswill.base.checks import need_agenda
-from oneswill.base.names import all_values
+from oneswill.base.names import all_sets
 from oneswill.link.links import led_from, link_web
 from oneswill.rule.rules import Rule, need_rule, need_rule_for, need_two_voters
 
@@ -25,17 +25,11 @@ def is_closed(agenda, value):
     return are_answers_to(agenda.issues, value) and leaves_none(link_web(agenda), value)
 
 
-def _chosen(answers, values):
-    """The set of the answers that have value 1 here."""
-    return tuple([answer for answer, value in zip(answers, values) if value == 1])
-
-
 def closed_sets(agenda):
     """The ascending tuple of all closed sets."""
     need_agenda(agenda)
-    web, every = link_web(agenda), agenda.answers
-    found = [_chosen(every, values) for values in all_values(len(every))]
-    return tuple(sorted([answers for answers in found if leaves_none(web, answers)]))
+    web = link_web(agenda)
+    return tuple([answers for answers in all_sets(agenda.answers) if leaves_none(web, answers)])
 
 
 def least_closed(agenda, answers):

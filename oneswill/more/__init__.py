@@ -1,0 +1,1 @@
+"""Agendas that change, agendas of orders, and agendas with a conclusion."""
