@@ -6,8 +6,10 @@ from itertools import combinations, product
 from random import Random
 
 from oneswill.base.agendas import Agenda
+from oneswill.desk.desk import Desk
 from oneswill.errors import InvalidAgenda
 from oneswill.rule.rules import Rule
+from oneswill.text.shell import Shell
 
 PAIR = Agenda(("a", "b"), ((0, 1), (1, 0)))
 EVEN = Agenda(("a", "b", "c"), ((0, 0, 0), (0, 1, 1), (1, 0, 1), (1, 1, 0)))
@@ -39,7 +41,8 @@ def wrong_values():
         [], [0], [0, 1], [0, 1, 0], ["a"], ["a", "b"], [("a", 0)], [(0, 1), (1, 0)], (["a"],), ([0, 1], [1, 0]),
         {0: "a"}, {"zz": "a"}, {"a": "A"}, {"a": 0}, {"a": None}, {True: "a"}, {None: "x"}, {("a",): "x"}, {"a": ["b"]},
         nested("tuple", 10), nested("list", 10), nested("dict", 10), PAIR, EVEN, CLAIM, (PAIR,), [CLAIM], {"a": PAIR},
-        Rule(1, {"zz": (0, 1)}), BOTH, (BOTH, BOTH), [BOTH], {"a": BOTH}, InvalidAgenda("no agenda"),
+        Rule(1, {"zz": (0, 1)}), BOTH, (BOTH, BOTH), [BOTH], {"a": BOTH}, InvalidAgenda("no agenda"), Desk(CLAIM),
+        (Desk(PAIR),), Shell("issues a\nrow 0\nrow 1", {}),
     ]
 
 
@@ -85,6 +88,11 @@ def deep(value):
         return f"Agenda({value.issues!r}, {value.rows!r})"
     if isinstance(value, Rule):
         return f"Rule({value.voters!r}, {[(issue, value[issue]) for issue in value]!r})"
+    if isinstance(value, Desk):
+        kept = [(name, value[name]) for name in value]
+        return f"Desk({deep(value.agenda)}, {deep(kept)}, {[(name, value.row_by(name)) for name in value.people]!r})"
+    if isinstance(value, Shell):
+        return f"Shell({deep(value.desk())})"
     if isinstance(value, dict):
         return "{" + ", ".join(f"{deep(key)}: {deep(item)}" for key, item in value.items()) + "}"
     if isinstance(value, (tuple, list)):

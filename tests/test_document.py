@@ -23,6 +23,10 @@ STAGES = {
     "stage_12": "oneswill.rule.winners",
     "stage_13": "oneswill.more.changed",
     "stage_14": "oneswill.more.orders",
+    "stage_15": "oneswill.more.concluded",
+    "stage_16": "oneswill.desk.desk",
+    "stage_17": "oneswill.text.formats",
+    "stage_18": "oneswill.text.shell",
 }
 
 

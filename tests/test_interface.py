@@ -31,12 +31,20 @@ FUNCTIONS = {
         side_parts(agenda) beside(first, second) cut_rules(agenda, issues)""",
     "oneswill.more.orders": """orders_agenda(things) row_of(things, order) order_of(things, values) ring(things, values)
         order_outcome(things, rule, orders) least_orders(things, rule)""",
+    "oneswill.more.concluded": """concluded(premises, name, sentence) kind(premises, sentence)
+        is_conclusion(agenda, issue) sentence_of(agenda, issue) conclusions(agenda)""",
+    "oneswill.text.formats": """write_agenda(agenda) write_rule(agenda, rule) write_value(value) read_agenda(text)
+        read_rule(agenda, text) read_value(text)""",
 }
 METHODS = {
     "oneswill.base.agendas Agenda": """__init__(issues, rows) free(issues) with_row(row) without_row(row) turned(issues)
         renamed(names) only(issues) fixed(answer)""",
     "oneswill.rule.rules Rule": """__init__(voters, tables) of_voter(issues, voters, voter) __call__(votes) followed()
         heard(issue) only(issues) turned(issues) renamed(names) spoken(voices, voters) put_in(rules)""",
+    "oneswill.desk.desk Desk": """__init__(agenda) keep(name, rule) forget(name) vote(name, row) leave(name) add(row)
+        take(row) drop(issue) turn(issues) outcome(name, voters) undo(many) redo(many) trial() during(call) twin()
+        row_by(name) __getitem__(name) __contains__(value) __len__() __iter__() __eq__(other) __str__()""",
+    "oneswill.text.shell Shell": "__init__(agenda_text, rule_texts) desk() __call__(line) answer(line)",
 }
 CONSTANTS = {
     "oneswill.base.names": {"MAX_LETTERS": 8},

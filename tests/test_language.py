@@ -113,7 +113,8 @@ def is_operator(function):
     """Whether a function is a property or an operator, which may change nothing."""
     if any(getattr(decorator, "id", "") == "property" for decorator in function.decorator_list):
         return True
-    return function.name.startswith("__") and function.name not in ("__init__", "__call__", "__iter__")
+    return function.name.startswith("__") and function.name not in (
+        "__init__", "__call__", "__iter__", "__enter__", "__exit__")
 
 
 def run_by_operators(trees):
@@ -312,6 +313,33 @@ class LanguageTest(unittest.TestCase):
         for text in ("for x in list(xs):\n  xs.append(x)", "for x in xs:\n  ys.append(x)\n xs = list(ys)",
                      "for x in sorted(xs):\n  xs[x] = 1", "ys = []\n for x in xs:\n  ys.append(x)"):
             self.assertEqual(list(self.wrong_loops(ast.parse(f"def f(xs, a):\n {text}"))), [], text)
+
+    def test_blocks_end_by_plain_assignments(self):
+        for node, _, place in self.nodes(ast.FunctionDef):
+            if node.name == "__exit__":
+                self.assertEqual([part.arg for part in node.args.args], ["self", "kind", "value", "trace"], place)
+                names = [part.targets[0].id for part in node.body if isinstance(part.targets[0], ast.Name)]
+                self.assertEqual(len(names), len(set(names)), place)
+                for part in node.body:
+                    self.assertIsInstance(part, ast.Assign, place)
+                    self.assertIsInstance(part.value, (ast.Name, ast.Attribute), place)
+
+    def test_each_caught_error_has_a_name_of_its_own(self):
+        for function, _, place in self.nodes(ast.FunctionDef):
+            caught = [node.name for node in ast.walk(function) if isinstance(node, ast.ExceptHandler) and node.name]
+            self.assertEqual(len(caught), len(set(caught)), place)
+            self.assertEqual(set(caught) & bound_in(function), set(), place)
+
+    def test_own_errors_alone_are_caught(self):
+        own = set(self.defined["oneswill.errors"])
+        for node, _, place in self.nodes(ast.ExceptHandler):
+            named = {part.id for part in ast.walk(node.type) if isinstance(part, ast.Name)}
+            self.assertLessEqual(named, own, place)
+
+    def test_keywords_alone_behind_a_star(self):
+        for node, _, place in self.nodes(ast.FunctionDef):
+            self.assertTrue(not node.args.kwonlyargs or node.args.args[0].arg == "self", place)
+            self.assertIsNone(node.args.vararg or node.args.kwarg, place)
 
     def test_no_import_leads_round(self):
         loads = {module(path): {node.module for node in tree.body if isinstance(node, ast.ImportFrom)}

@@ -126,7 +126,7 @@ class OutcomeTest(Calls):
         orders = (FOUR, FOUR[::-1], ("b", "a", "d", "c"), ("c", "a", "d", "b"))
         for voter in range(4):
             self.assertEqual(self.soon(order_outcome, FOUR, Rule.of_voter(issues, 4, voter), orders), orders[voter])
-        # b is ahead of a for one of them only, a of c for both, c of b for one of them only.
+        # Both say only that a is ahead of c, so b would be ahead of a, and c ahead of b.
         orders, both = (("b", "a", "c", "d"), ("a", "c", "b", "d")), way_rule(issues, "both")
         rows = tuple(row_for(FOUR, order) for order in orders)
         self.refuse(NoRow, order_outcome, FOUR, both, orders, votes=rows)

@@ -1,0 +1,1 @@
+"""A desk that keeps rules valid while the agenda changes."""

@@ -1,0 +1,1 @@
+"""Texts of agendas, rules and values, and a shell over a desk."""
