@@ -289,7 +289,8 @@ class CutRulesTest(Calls):
         self.assertEqual(len(self.soon(cut_rules, Agenda(SIX, VALUES[1:-1]), SIX[1:])), 1024 - 2)
 
     def test_no_issues(self):
-        for issues in ((), ("q", "p"), ("p", "p"), ["p"], ("a",), "p", ("p", "z"), None, 0, {"p": 1}, ("p", 1), CLAIM, BOTH):
+        for issues in ((), ("q", "p"), ("p", "p"), ["p"], ("a",), "p", ("p", "z"), None, 0, {"p": 1}, ("p", 1), CLAIM,
+                       BOTH):
             self.refuse(InvalidOperation, cut_rules, CLAIM, issues)
         self.refuse_wrong(InvalidOperation, cut_rules, CLAIM, ("p",), at=1)
 

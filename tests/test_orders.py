@@ -15,9 +15,9 @@ from tests.common import BOTH, CLAIM, MOST, ORDERS, Calls, deep, is_rule_for
 
 ABC, FOUR = ("a", "b", "c"), ("a", "b", "c", "d")
 SETS = (("a", "b"), ("x", "z"), ABC, ("k", "m", "z"), FOUR, ("b", "c", "x", "y"))
-NO_THINGS = ((), ("a",), ("b", "a"), ("a", "a"), ("a", "b", "b"), ("a", "c", "b"), ("a", "b", "c", "d", "e"), ["a", "b"],
-             ("a", "bb"), ("aa", "bb"), ("a", "B"), ("a", "1"), ("a", ""), ("a", 1), ("a", None), "ab", None, 2,
-             {"a": 1, "b": 2}, (("a",), ("b",)), (ABC,), ORDERS, BOTH)
+NO_THINGS = ((), ("a",), ("b", "a"), ("a", "a"), ("a", "b", "b"), ("a", "c", "b"), ("a", "b", "c", "d", "e"),
+             ["a", "b"], ("a", "bb"), ("aa", "bb"), ("a", "B"), ("a", "1"), ("a", ""), ("a", 1), ("a", None), "ab",
+             None, 2, {"a": 1, "b": 2}, (("a",), ("b",)), (ABC,), ORDERS, BOTH)
 NO_ORDERS = (("a", "b"), ("a", "b", "c", "d"), ("a", "b", "b"), ("a", "a", "a"), ("a", "b", "x"), ["a", "b", "c"], (),
              "abc", ("abc",), ("a", "b", 1), ("a", "b", None), None, 0, {"a": 1, "b": 2, "c": 3}, (("a",), "b", "c"),
              ("A", "b", "c"), (1, 1, 1), ORDERS, (ABC,))

@@ -192,8 +192,9 @@ class WayPaperTest(Calls):
             self.assertIs(is_way_paper(agenda, way, ("clash", clash)), True)
 
     def test_no_papers(self):
-        for value in ((), ("rule", ()), ("rule", ("rule",)), ["rule"], ("Rule",), "rule", (True,), ("clash",), ("rows",),
-                      ("rule", "rule", "rule"), {"rule": 1}, (("rule",),), (None,), (PAIR,), (BOTH, BOTH), ("clash", PAIR)):
+        for value in ((), ("rule", ()), ("rule", ("rule",)), ["rule"], ("Rule",), "rule", (True,), ("clash",),
+                      ("rows",), ("rule", "rule", "rule"), {"rule": 1}, (("rule",),), (None,), (PAIR,), (BOTH, BOTH),
+                      ("clash", PAIR)):
             for agenda in (PAIR, CLAIM, EVEN, ORDERS):
                 for way in WAYS:
                     self.assertIs(is_way_paper(agenda, way, value), False, value)
@@ -249,8 +250,8 @@ class TablesTest(Calls):
         # A link between two issues lets just the tables of growing rules stand.
         agenda = Agenda(SIX, tuple(row for row in VALUES if row[0] <= row[1]))
         found = self.soon(tables_for_all, agenda, 3)
-        growing = [table for table in tables(3) if all(table[at] <= table[at | bit] for at in range(8)
-                                                       for bit in (1, 2, 4))]
+        steps = [(at, at | bit) for at in range(8) for bit in (1, 2, 4)]
+        growing = [table for table in tables(3) if all(table[low] <= table[high] for low, high in steps)]
         self.assertEqual(found, tuple(growing))
 
 

@@ -24,8 +24,8 @@ MIXED = [Rule(1, {"ab": (0, 1)}), BOTH, MOST, SOME, Rule.of_voter(("a", "b"), 3,
 # Those among the values of every kind.
 RULES = [BOTH, Rule(1, {"zz": (0, 1)})]
 # No sets of voters of a rule for two voters.
-NO_VOTERS = ((1, 0), (0, 0), (2,), (0, 2), (-1,), (True,), (0, True), (False, 1), [0], [], 0, None, "0", ("0",), (0, 1, 2),
-             ((0,),), {0: 1}, (None,), (10 ** 60,), BOTH, (BOTH,))
+NO_VOTERS = ((1, 0), (0, 0), (2,), (0, 2), (-1,), (True,), (0, True), (False, 1), [0], [], 0, None, "0", ("0",),
+             (0, 1, 2), ((0,),), {0: 1}, (None,), (10 ** 60,), BOTH, (BOTH,))
 NO_ANSWERS = (("a", 0), ("p", True), ("p", False), ("p", 2), ("p",), ("p", 0, 0), ["p", 0], "p0", (), None, 0, ("P", 0),
               (0, "p"), {"p": 0}, (("p", 0),), ("p", None), (["p"], 0), ("p", [0]), CLAIM, "p")
 
@@ -111,8 +111,9 @@ class LossTest(Calls):
                 self.assertIs(found is None or (found in right and is_loss(agenda, rule, found)), True)
 
     def test_rules_for_the_agenda_have_none(self):
-        for agenda, rule in ((CLAIM, BOTH), (EVEN, way_rule(EVEN.issues, "sum")), (ORDERS, Rule.of_voter(ORDERS.issues, 4, 2)),
-                             (CLAIM, BOTH.spoken((0, 2), 3)), (PAIR, way_rule(PAIR.issues, "most"))):
+        for agenda, rule in ((CLAIM, BOTH), (EVEN, way_rule(EVEN.issues, "sum")),
+                             (ORDERS, Rule.of_voter(ORDERS.issues, 4, 2)), (CLAIM, BOTH.spoken((0, 2), 3)),
+                             (PAIR, way_rule(PAIR.issues, "most"))):
             self.assertIs(is_rule_for(agenda, rule), True)
             self.assertIsNone(self.told(loss, agenda, rule))
 
@@ -123,7 +124,7 @@ class LossTest(Calls):
 
     def test_each_triple(self):
         for agenda, rule in ((CLAIM, SOME), (CLAIM, BOTH), (PAIR, way_rule(PAIR.issues, "both")),
-                             (CLAIM, Rule(3, {"both": (0,) * 7 + (1,), "p": (0, 0, 0, 1, 0, 1, 1, 1), "q": (0, 1) * 4}))):
+                             (CLAIM, Rule(3, {"both": (0,) * 7 + (1,), "p": MOST["ab"], "q": (0, 1) * 4}))):
             right = losses(agenda, rule)
             for one, other in product(agenda.answers, repeat=2):
                 for voters in subsets(range(rule.voters)):
@@ -207,7 +208,8 @@ class RankedKnotsTest(Calls):
         for at, knot in enumerate(ranked):
             # Nothing that comes later leads to it, and it is the first one of those to which nothing left leads.
             left = ranked[at:]
-            free = [one for one in left if not any(one != other and one[0] in led_to(agenda, other[0]) for other in left)]
+            led = {other: led_to(agenda, other[0]) for other in left}
+            free = [one for one in left if not any(one != other and one[0] in led[other] for other in left)]
             self.assertEqual(knot, min(free))
 
     def test_the_order(self):
@@ -228,7 +230,8 @@ class RankedKnotsTest(Calls):
         self.assertEqual(ranked_knots(ORDERS), (ORDERS.answers,))
 
     def test_a_knot_is_won_by_the_same_sets(self):
-        for agenda, rule in ((CLAIM, BOTH), (EVEN, way_rule(EVEN.issues, "sum")), (PAIR, way_rule(PAIR.issues, "most"))):
+        for agenda, way in ((CLAIM, "both"), (EVEN, "sum"), (PAIR, "most")):
+            rule = way_rule(agenda.issues, way)
             for knot in ranked_knots(agenda):
                 self.assertEqual(len({winners(rule, answer) for answer in knot}), 1)
 
