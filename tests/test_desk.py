@@ -129,6 +129,7 @@ class ReadTest(DeskTest):
                 self.assertIs(one == value, False)
                 self.assertIs(one != value, True)
         self.assertIs(Desk(CLAIM) == Desk(CLAIM), True)
+        self.assertEqual([Desk(CLAIM) == Desk(PAIR), Desk(CLAIM) != Desk(CLAIM.turned(("p",)))], [False, True])
         self.assertIs(Desk(CLAIM) == CLAIM, False)
 
     def test_it_shares_nothing(self):

@@ -162,6 +162,9 @@ class WayPaperTest(Calls):
                     self.assertIs(is_way_paper(agenda, way, ("rows", rows)), False)
         rows = ((0, 0, 0), (0, 0, 1), (0, 1, 1))
         self.assertIs(is_way_paper(ORDERS, "sum", ("rows", rows)), True)
+        for value in (("clash", rows), ("Rows", rows), ("rows", rows, rows), (rows, "rows"), ["rows", rows], ("sums", rows),
+                      ("rule", rows), (None, rows), (rows,), (PAIR, rows)):
+            self.assertIs(is_way_paper(ORDERS, "sum", value), False, value)
         for value in (rows[:2], rows + rows[:1], list(rows), [list(row) for row in rows], (0, 0, 0), None, (),
                       (rows[0], rows[1], (0, 1, True)), (rows[0], rows[1], (0, 1, 0)), (rows[0], rows[1], [0, 1, 1])):
             self.assertIs(is_way_paper(ORDERS, "sum", ("rows", value)), False, value)
@@ -190,6 +193,9 @@ class WayPaperTest(Calls):
         for way in WAYS[:3]:
             self.assertEqual(way_paper(agenda, way), ("clash", clash))
             self.assertIs(is_way_paper(agenda, way, ("clash", clash)), True)
+            for value in (("rows", clash), ("Clash", clash), ("clash", clash, clash), (clash, "clash"), ["clash", clash],
+                          ("rule", clash), (None, clash), ("clash", "clash", clash), (clash,), (PAIR, clash)):
+                self.assertIs(is_way_paper(agenda, way, value), False, value)
 
     def test_no_papers(self):
         for value in ((), ("rule", ()), ("rule", ("rule",)), ["rule"], ("Rule",), "rule", (True,), ("clash",),

@@ -4,7 +4,7 @@ from oneswill.errors import Broken, InvalidNumber, InvalidOperation, NothingToUn
 from oneswill.base.agendas import cut_row, turned_row
 from oneswill.base.checks import need_agenda, need_issue, need_name
 from oneswill.base.names import is_integer, is_name
-from oneswill.rule.rules import breach, need_rule, need_rule_for
+from oneswill.rule.rules import breach, need_rule_for
 
 
 class Page:
@@ -15,11 +15,6 @@ class Page:
         self.kept = kept
         self.cast = cast
 
-    def __eq__(self, other):
-        if not isinstance(other, Page):
-            return False
-        return self.subject == other.subject and self.kept == other.kept and self.cast == other.cast
-
 
 class Mark:
     """What a desk was at the begin of a block, and the mark of the block around it, or None."""
@@ -29,6 +24,11 @@ class Mark:
         self.done = done
         self.undone = undone
         self.outer = outer
+
+
+def _are_equal(page, other):
+    """Whether two pages have equal agendas, rules and rows."""
+    return page.subject == other.subject and page.kept == other.kept and page.cast == other.cast
 
 
 def _with(table, name, item):
@@ -103,11 +103,10 @@ class Desk:
         return iter(self._page.kept)
 
     def __eq__(self, other):
-        return isinstance(other, Desk) and self._page == other._page
+        return isinstance(other, Desk) and _are_equal(self._page, other._page)
 
     def __str__(self):
-        page = self._page
-        return f"desk of {len(page.subject.issues)} issues, {len(page.kept)} rules, {len(page.cast)} voters"
+        return f"desk of {len(self.agenda.issues)} issues, {len(self.names)} rules, {len(self.people)} voters"
 
     def row_by(self, name):
         """The row that a voter has handed in."""
@@ -124,7 +123,6 @@ class Desk:
         """Keep a rule for the agenda under a name."""
         need_name(name)
         page = self._page
-        need_rule(page.subject, rule)
         need_rule_for(page.subject, rule)
         self._go_on(page.subject, _with(page.kept, name, rule), page.cast)
 
@@ -189,8 +187,7 @@ class Desk:
             raise InvalidOperation("no tuple of names of voters")
         for voter in voters:
             _need_kept(cast, voter)
-        if len(voters) != rule.voters:
-            raise InvalidOperation("not as many voters as the rule has")
+        # The rule refuses another number of rows.
         return rule(tuple([cast[voter] for voter in voters]))
 
     def undo(self, *, many=1):

@@ -71,7 +71,8 @@ def is_conclusion(agenda, issue):
     need_agenda(agenda)
     need_issue(agenda, issue)
     premises = [other for other in agenda.issues if other != issue]
-    if len(premises) == 0 or len(agenda) != 1 << len(premises):
+    # That is not so without premises: both values of an issue alone are two rows.
+    if len(agenda) != 1 << len(premises):
         return False
     # So many rows have all values of the premises if no two of them have the same ones.
     return len(agenda.only(tuple(premises))) == len(agenda)

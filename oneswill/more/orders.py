@@ -79,20 +79,19 @@ def ring(things, values):
     return None
 
 
-def _are_orders(things, value, many):
-    """Whether the value is a tuple of so many orders of the things."""
-    if not isinstance(value, tuple) or len(value) != many:
-        return False
+def _are_orders(things, value):
+    """Whether the value is a tuple of orders of the things."""
     every = _all_orders(things)
-    return all([order in every for order in value])
+    return isinstance(value, tuple) and all([order in every for order in value])
 
 
 def order_outcome(things, rule, orders):
     """The order of the outcome of the rows of some orders, as votes."""
     agenda = orders_agenda(things)
     need_rule(agenda, rule)
-    if not _are_orders(things, orders, rule.voters):
-        raise InvalidOperation("no tuple of one order for each voter")
+    if not _are_orders(things, orders):
+        raise InvalidOperation("no tuple of orders")
+    # That there is one order for each voter is looked at with their rows.
     return order_of(things, outcome(agenda, rule, tuple([_row(things, order) for order in orders])))
 
 

@@ -217,12 +217,6 @@ def has_few_votes(agenda, voters):
     return many <= MAX_VOTES
 
 
-def need_few_votes(agenda, voters):
-    """Refuse to look at too many votes."""
-    if not has_few_votes(agenda, voters):
-        raise TooMany(MAX_VOTES)
-
-
 def _one_voter_more(rows, cases):
     """The cases behind one voter more: from the parts of the tables that are left to votes that leave them."""
     found = {}
@@ -261,12 +255,13 @@ def breach(agenda, rule):
     """Rows of the agenda, as votes, whose outcome is no row, or None if the rule is one for the agenda."""
     need_agenda(agenda)
     need_rule(agenda, rule)
-    need_few_votes(agenda, rule.voters)
+    if not has_few_votes(agenda, rule.voters):
+        raise TooMany(MAX_VOTES)
     return _first_breach(agenda, rule)
 
 
 def need_rule_for(agenda, rule):
-    """Refuse a rule with the issues of the agenda that is not one for the agenda."""
+    """Refuse what is no rule for the agenda: no rule with its issues, too many votes, or an outcome that is no row."""
     votes = breach(agenda, rule)
     if votes is not None:
         raise NoRow(votes)

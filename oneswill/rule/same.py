@@ -4,7 +4,7 @@ from oneswill.errors import InvalidNumber, InvalidOperation
 from oneswill.base.checks import need_agenda
 from oneswill.base.clashes import is_least_clash, least_clashes
 from oneswill.base.names import all_values, is_integer
-from oneswill.rule.rules import Rule, is_rule, need_any_rule, need_few_votes, need_issues, need_voters
+from oneswill.rule.rules import Rule, is_rule, need_any_rule, need_issues
 from oneswill.rule.sums import shows_no_sums, sums_paper
 
 WAYS = ("both", "either", "most", "sum")
@@ -27,8 +27,7 @@ def _need_way(way):
 def same_rule(issues, voters, table):
     """The rule in which each issue has this table."""
     need_issues(issues)
-    need_voters(voters)
-    # The rule itself refuses what is no table for so many voters.
+    # The rule itself refuses what is no number of voters, and then what is no table for so many.
     return Rule(voters, {issue: table for issue in issues})
 
 
@@ -92,6 +91,5 @@ def tables_for_all(agenda, voters):
     need_agenda(agenda)
     if not is_integer(voters) or not 1 <= voters <= 3:
         raise InvalidNumber(voters)
-    need_few_votes(agenda, voters)
     tables = [(0, *middle, 1) for middle in all_values((1 << voters) - 2)]
     return tuple([table for table in tables if is_rule(agenda, same_rule(agenda.issues, voters, table))])

@@ -105,17 +105,19 @@ def read_agenda(text):
     for at, words in enumerate(lines):
         if not _is_agenda_line(words, at == 0):
             raise ParseError(at)
+    issues, rows = tuple(lines[0][1:]), tuple([values_of(words[1]) for words in lines[1:]])
     # What an agenda takes ascends, and so has just this text.
     try:
-        return Agenda(tuple(lines[0][1:]), tuple([values_of(words[1]) for words in lines[1:]]))
+        return Agenda(issues, rows)
     except InvalidAgenda:
         raise ParseError(len(lines))
 
 
 def _rule_of_lines(lines):
     """The rule that lines of the right forms tell, or None if there is none."""
+    voters, tables = int(lines[0][1]), {words[1]: values_of(words[2]) for words in lines[1:]}
     try:
-        return Rule(int(lines[0][1]), {words[1]: values_of(words[2]) for words in lines[1:]})
+        return Rule(voters, tables)
     except (InvalidNumber, InvalidRule):
         return None
 
