@@ -243,6 +243,33 @@ class RankedKnotsTest(Calls):
                     self.assertLessEqual(set(winners(rule, one)), set(winners(rule, other)))
 
 
+class StatementsTest(Calls):
+    def test_more_voters_win_along_links_too(self):
+        # [0.12] and [0.19], for rules for three voters that are put together of rules for two.
+        rules = [rule for rule in all_rules(CLAIM.issues, 2) if is_rule_for(CLAIM, rule)]
+        for outer, one, other in product(rules, repeat=3):
+            rule = outer.put_in((one.spoken((0, 1), 3), other.spoken((1, 2), 3)))
+            self.assertIs(is_rule_for(CLAIM, rule), True)
+            self.assertIsNone(loss(CLAIM, rule))
+            for first, second in links(CLAIM):
+                self.assertLessEqual(set(winners(rule, first)), set(winners(rule, second)))
+
+    def test_a_rule_for_three_that_is_not_put_together(self):
+        # [0.18]: where each rule for two has tables that grow with their values, so have those put together of them.
+        rule = sum_rule(PAIR.issues, 3, (0, 1, 2))
+        self.assertIs(is_rule_for(PAIR, rule), True)
+        for two in [rule for rule in all_rules(PAIR.issues, 2) if is_rule_for(PAIR, rule)]:
+            for answer in PAIR.answers:
+                self.assertIs(grows(two, answer), True)
+        self.assertIs(grows(rule, ("a", 1)), False)
+
+
+def grows(rule, answer):
+    """Whether each set of voters that contains one that wins an answer wins it."""
+    sets = winners(rule, answer)
+    return all(other in sets for one in sets for other in subsets(range(rule.voters)) if set(one) <= set(other))
+
+
 class WrongTest(Calls):
     def test_no_agenda(self):
         for call, more in ((loss, (BOTH,)), (is_loss, (BOTH, None)), (votes_of, (BOTH, None)), (ranked_knots, ())):
