@@ -10,7 +10,7 @@ from oneswill.link.links import is_blocked, led_to
 from oneswill.rule.rules import Rule, breach, is_breach
 from oneswill.rule.twos import closed_sets, is_closed, least_closed, rule_of, rules_for_two, set_of
 from tests.common import BOTH, CLAIM, EVEN, MOST, ORDERS, PAIR, SIX, Calls, all_agendas, all_rules, deep, is_rule_for
-from tests.common import linked, small_agendas, subsets
+from tests.common import linked, mixed_agendas, small_agendas, subsets
 
 # No sets of answers of PAIR.
 NO_SETS = ((("b", 0), ("a", 0)), (("a", 0), ("a", 0)), (("c", 0),), (("a", 0), ("c", 1)), (("a", True),), (("a", 2),),
@@ -79,6 +79,16 @@ class ClosedTest(Calls):
                 self.assertEqual(repr(self.told(least_closed, agenda, chosen)), repr(right))
             for answer in agenda.answers:
                 self.assertEqual(least_closed(agenda, (answer,)), led_to(agenda, answer))
+
+    def test_least_closed_of_more_issues(self):
+        for agenda in mixed_agendas():
+            pairs, found = linked(agenda), closed_sets(agenda)
+            for chosen in [*subsets(agenda.answers)[:30], agenda.answers[1:4], agenda.answers[::3]]:
+                right = set(chosen)
+                for _ in agenda.answers:
+                    right |= {other for one, other in pairs if one in right}
+                self.assertEqual(repr(self.told(least_closed, agenda, chosen)), repr(tuple(sorted(right))))
+                self.assertIn(tuple(sorted(right)), found)
 
     def test_six_issues(self):
         self.assertEqual(len(self.soon(closed_sets, Agenda.free(SIX))), 4096)

@@ -261,9 +261,8 @@ def do_line(desk, line):
     """Do the command of a line at a desk, and return the answer."""
     if not isinstance(line, str):
         return "what"
-    words = line.split(" ")
-    if words in (["undo"], ["redo"]):
-        words = words + ["1"]
+    # Without a number it is one call that is undone, or done again.
+    words = [line, "1"] if line in ("undo", "redo") else line.split(" ")
     if words[0] not in _FORMS:
         return "what"
     told = _told_behind(_FORMS[words[0]], words[1:])
