@@ -174,6 +174,24 @@ class RuleTextTest(FormatTest):
         self.wrong(0, read_rule, FREE, "")
         self.wrong(2, read_rule, FREE, "voters 2\nissue a 0001\n")
 
+    def test_each_line_left_out_repeated_or_moved(self):
+        lines = write_rule(CLAIM, BOTH).split("\n")
+        for at in range(len(lines)):
+            left, twice = lines[:at] + lines[at + 1:], lines[:at + 1] + lines[at:]
+            self.wrong(len(left) if at else 0, read_rule, CLAIM, "\n".join(left))
+            self.wrong(len(twice) if at else 1, read_rule, CLAIM, "\n".join(twice))
+            if at + 1 < len(lines):
+                moved = [*lines[:at], lines[at + 1], lines[at], *lines[at + 2:]]
+                self.wrong(len(moved) if at else 0, read_rule, CLAIM, "\n".join(moved))
+        # The issues that are left are those of another agenda.
+        self.assertEqual(read_rule(CLAIM.only(("p", "q")), "\n".join(lines[:1] + lines[2:])), BOTH.only(("p", "q")))
+
+    def test_numbers_of_sixty_digits_and_more(self):
+        self.wrong(2, read_rule, FREE, "voters " + "9" * 60 + "\nissue a 01")
+        self.wrong(0, read_rule, FREE, "voters " + "9" * 61 + "\nissue a 01")
+        self.wrong(0, read_rule, FREE, "voters 01\nissue a 01")
+        self.wrong(2, read_rule, FREE, "voters 0\nissue a 01")
+
     def test_lines_of_no_rule(self):
         for text in ("voters 2", "voters 0\nissue a 1", "voters 5\nissue a 01", "voters 2\nissue a 01",
                      "voters 1\nissue a 0001", "voters 1\nissue a 00", "voters 1\nissue a 11", "voters 1\nissue a 10",
