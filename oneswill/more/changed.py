@@ -14,7 +14,7 @@ MAX_SETS = 500
 
 def _sets_up_to(items, most):
     """All sets of at most so many of some items, which are told ascending; smaller sets come first."""
-    found = last = [()]
+    found, last = [()], [()]
     for _ in range(most):
         last = [(*chosen, item) for chosen in last for item in items if chosen == () or chosen[-1] < item]
         found = found + last
